@@ -1,0 +1,1 @@
+"""Everytongue: one book of meanings, many languages."""

@@ -1,0 +1,34 @@
+"""How parameters, papers and results are refused."""
+
+from everytongue.errors import InvalidPaper, NotUsable, TooMuch
+
+MOST_NODES = 1000
+
+
+def require(holds, name):
+    """Refuse the parameter with this name if it is not as stated."""
+    if not holds:
+        raise NotUsable(name, -1)
+
+
+def accept(fault):
+    """Refuse a paper with this fault, a pair of a word and a place, or None."""
+    if fault is not None:
+        raise InvalidPaper(fault[0], fault[1])
+
+
+def bound_nodes(many):
+    """Refuse to return a tree or context of too many nodes."""
+    if many > MOST_NODES:
+        raise TooMuch("tree")
+
+
+def count_limit():
+    """The least number of trees that is too much: 10 to the power of 4000."""
+    return ((10 ** 40) ** 50) ** 2
+
+
+def bound_count(many):
+    """Refuse to return a number of trees that is too great."""
+    if many >= count_limit():
+        raise TooMuch("count")
