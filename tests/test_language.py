@@ -30,6 +30,8 @@ METHODS = ("append", "clear", "copy", "count", "endswith", "extend", "find", "ge
 LIBRARY = {"heapq": ("heappush", "heappop"), "math": ("gcd",)}
 SPOTS = ("list", "tuple", "dict", "sorted", "sum", "any", "all", "enumerate", "zip", "min", "max")
 CHANGES = ("append", "clear", "extend", "insert", "pop", "remove", "reverse", "setdefault", "update")
+# Doctests leave an underscore behind.
+BUILTIN = [name for name in dir(builtins) if name != "_"]
 BARRED = ("register", "mro", "elements", "open", "input", "law", "version_info", "with_traceback", "add_note", "typing",
           "typing_extensions", "enum", "Enum", "IntEnum", "StrEnum", "Flag", "IntFlag", "Generic", "Protocol", "ABC",
           "ABCMeta", "namedtuple", "NamedTuple", "TypedDict", "TYPE_CHECKING", "abstractmethod", "type", "attrgetter",
@@ -62,7 +64,7 @@ class Language(unittest.TestCase):
                 self.assertTrue(re.fullmatch("[a-z0-9_]+", path.stem))
                 self.assertEqual(path.parent, ROOT)
                 self.assertFalse(re.match("test|law_|site|conftest", path.stem))
-                self.assertNotIn(path.stem, dir(builtins))
+                self.assertNotIn(path.stem, BUILTIN)
 
     def test_size(self):
         for _, text, tree in self.each():
@@ -156,7 +158,7 @@ class Language(unittest.TestCase):
                     self.assertNotIn(node.attr, BARRED)
                 for name in found:
                     self.assertTrue(re.fullmatch("[A-Za-z][A-Za-z0-9_]*|_", name), name)
-                    self.assertNotIn(name, dir(builtins) + list(BARRED))
+                    self.assertNotIn(name, BUILTIN + list(BARRED))
                     if isinstance(node, (ast.Name, ast.arg)) and names.count(name):
                         self.assertIn(name, [names for names in names if names.isupper()], name)
 
@@ -178,7 +180,7 @@ class Language(unittest.TestCase):
     def test_calls(self):
         for _, _, tree in self.each():
             for node in ast.walk(tree):
-                if isinstance(node, ast.Name) and node.id in dir(builtins):
+                if isinstance(node, ast.Name) and node.id in BUILTIN:
                     self.assertIn(node.id, BUILTINS)
                 if not isinstance(node, ast.Call):
                     continue
