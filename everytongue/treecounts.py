@@ -38,10 +38,12 @@ def start_count(book):
     size, starts, cons = trim_book(book)
     limit = count_limit()
     rows = [[] for _ in range(size)]
+    edges = [[] for _ in range(size)]
     for result, kids in cons:
         rows[result].append(kids)
+        edges[result].extend(kids)
     counts = [0] * size
-    for sort in finish_order([[kid for kids in row for kid in kids] for row in rows]):
+    for sort in finish_order(edges):
         for kids in rows[sort]:
             many = 1
             for kid in kids:

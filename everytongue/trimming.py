@@ -115,4 +115,5 @@ def trim_book(book):
 
 def is_trimmed(book):
     """Whether all sorts and constructors of the book are used."""
-    return all(used_flags(book)) and len(used_places(book)) == len(book[2])
+    # If all sorts are used, each constructor has trees for its kids, and a result that is used.
+    return all(used_flags(book))

@@ -23,6 +23,18 @@ BOOKS = (NEST, PAIRS, DEAD, EMPTY, FOUR, NO_STARTS, NO_CONS)
 # Things that are not what they nearly are.
 ODD = (None, True, False, "", "a", -1, (), [], (None,), ((),), [0], (True,), ("pieces",), 10 ** 59)
 
+# Parameters that are not as stated, with NEST and its tongues.
+BAD_BOOKS = (None, (2, (0,)), (2, (2,), NEST[2]), [2, (0,), NEST[2]], (2, (False,), NEST[2]))
+BAD_SORTS = (2, -1, True, None, (0,), "0", 10 ** 59)
+BAD_TREES = ((), (0,), (0, 1), (2, 2), (3,), (True, 2), [0, 2], None, "02", (0, -1), 2, (0, (2,)))
+BAD_PIECES = (None, ("pieces", (1, 2)), ("pieces", (1, True), SPLIT[2]), ["pieces", (1, 2), SPLIT[2]],
+              ("pieces", (1, 2), SPLIT[2][:2]), ("functions", (1, 2), SPLIT[2]), ("pieces", (2, 2), SPLIT[2]))
+BAD_FUNCTIONS = (None, MEAN[:2], ("functions", ((1, 0, 0), (True, 0, 0)), MEAN[2]), list(MEAN), ("pieces",) + MEAN[1:],
+                 ("functions", ((1, 0, 0), (0,)), MEAN[2]), ("functions", MEAN[1], MEAN[2][:2]))
+BAD_TERMS = (None, (), [("word", "w")], (("app",),), (("var", 0),), (("lam", (0,)), ("word", "w")),
+             (("word", "w"),) * 2, (("app",), ("word", "w"), ("word", "w")), ("word", "w"), (("word", ""),),
+             (("lam", (1, 0, 0)), ("lam", (1, 0, 0)), ("var", 0)))
+
 
 def trees_by_size(book, most):
     """Per sort, per size up to most, all trees, in no particular sequence."""

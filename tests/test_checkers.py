@@ -5,7 +5,7 @@ import unittest
 from everytongue.checkers import lets_book, lets_tree
 from everytongue.errors import NotUsable
 from asking import Asking
-from samples import BOOKS, DEAD, EMPTY, FOUR, NEST, ODD, PAIRS, trees_by_size
+from samples import BOOKS, EMPTY, FOUR, NEST, ODD, PAIRS, trees_by_size
 
 
 class LetsBook(Asking):

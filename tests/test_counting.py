@@ -12,12 +12,9 @@ from everytongue.treecounts import count_trees, size_counts
 from everytongue.trees import is_context, put_in, sort_around
 from everytongue.trimming import looping_sorts, trimmed, used_sorts
 from asking import Asking
-from samples import (BOOKS, DEAD, EMPTY, FOUR, NEST, NO_CONS, NO_STARTS, PAIRS, random_book, slow_key, slow_nodes,
-                     start_trees, trees_by_size, trees_of)
+from samples import (BAD_BOOKS, BAD_SORTS, BAD_TREES, BOOKS, DEAD, EMPTY, FOUR, NEST, NO_CONS, NO_STARTS, PAIRS,
+                     random_book, slow_key, slow_nodes, start_trees, trees_by_size, trees_of)
 
-BAD_BOOKS = (None, (2, (0,)), (2, (2,), NEST[2]), [2, (0,), NEST[2]], (2, (False,), NEST[2]))
-BAD_SORTS = (2, -1, True, None, (0,), "0", 10 ** 59)
-BAD_TREES = ((), (0,), (0, 1), (2, 2), (3,), (True, 2), [0, 2], None, "02", (0, -1), 2)
 BAD_NUMBERS = (-1, True, None, "0", (0,), [0])
 
 
@@ -110,6 +107,16 @@ class Counts(Asking):
         self.refused(TooMuch, ("count",), count_trees, fan(29, 11))
         self.assertEqual(count_trees(fan(1, 11)), 1)
         self.assertIsNone(count_trees((12, (0,), fan(29, 11)[2] + ((11, (0,)),))))
+
+    def test_bound_of_other_counts(self):
+        # Beyond the limits of sizes and books; no count of this size is returned.
+        wide = (1, (0,), ((0, (0,)),) * 100 + ((0, ()),))
+        self.assertEqual(size_counts(wide, 0, 2000)[2000], 100 ** 1999)
+        self.refused(TooMuch, ("count",), size_counts, wide, 0, 2001)
+        wider = (1, (0,), ((0, (0,)),) * 12000 + ((0, ()),))
+        self.refused(TooMuch, ("count",), tree_number, wider, (1,) * 999 + (12000,))
+        self.refused(TooMuch, ("tree",), drawn_tree, NEST, 1, 1001, 0)
+        self.assertEqual(len(drawn_tree(NEST, 1, 1000, 0)), 1000)
 
     def test_parameters(self):
         self.asks(count_trees, {"book": DEAD}, {"book": BAD_BOOKS})

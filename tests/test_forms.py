@@ -10,11 +10,9 @@ from everytongue.reordering import identity_form, reordered
 from everytongue.saying import texts_said
 from everytongue.trimming import trimmed, used_cons, used_sorts
 from asking import Asking
-from samples import (DEAD, EMPTY, NEST, NO_CONS, ODD, PAIRS, SPLIT, random_book, random_pieces, random_tongues,
-                     slow_texts, start_trees, trees_by_size)
+from samples import (BAD_BOOKS, BAD_PIECES, DEAD, EMPTY, NEST, NO_CONS, ODD, PAIRS, SPLIT, random_book, random_pieces,
+                     random_tongues, slow_texts, start_trees, trees_by_size)
 
-BAD_BOOKS = (None, (2, (0,)), (2, (2,), NEST[2]), [2, (0,), NEST[2]], (2, (False,), NEST[2]))
-BAD_PIECES = (None, ("pieces", (1, 2)), ("pieces", (1, True), SPLIT[2]), ["pieces", (1, 2), SPLIT[2]])
 FORM = (NEST, (0, 1, 2), SPLIT)
 LEAF = ((2, (0,), ((1, ()),)), (2,), ("pieces", (1, 1), ((("a",),),)))
 BAD_FORMS = (None, (), FORM[:2], list(FORM), (NEST, (0, 1), SPLIT), (NEST, (0, 1, True), SPLIT), (PAIRS, (0, 1), SPLIT),

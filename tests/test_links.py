@@ -19,21 +19,15 @@ from everytongue.trimming import trimmed
 from everytongue.wires import term_links, term_shape
 from everytongue.worths import function_text, term_text
 from asking import Asking
-from samples import (EMPTY, FOUR, MEAN, NEST, NO_CONS, NO_STARTS, NoTerm, PAIRS, SPLIT, TYPES, function_samples,
-                     random_term, random_tongues, slow_nodes, slow_texts, split_type, start_trees, trees_by_size,
-                     worth_end)
+from samples import (BAD_BOOKS, BAD_FUNCTIONS, BAD_PIECES, BAD_TERMS, EMPTY, FOUR, MEAN, NEST, NO_CONS, NO_STARTS,
+                     NoTerm, PAIRS, SPLIT, TYPES, function_samples, random_term, random_tongues, slow_nodes,
+                     slow_texts, split_type, start_trees, trees_by_size, worth_end)
 
 ATOM = (0,)
 LINE = (1, 0, 0)
 APP = ("app",)
 WORD = (("word", "w"),)
 SAME = (("lam", LINE), ("var", 0))
-BAD_BOOKS = (None, (2, (0,)), (2, (2,), NEST[2]), [2, (0,), NEST[2]], (2, (False,), NEST[2]))
-BAD_FUNCTIONS = (None, MEAN[:2], ("functions", (LINE, True), MEAN[2]), list(MEAN), ("pieces",) + MEAN[1:],
-                 ("functions", (LINE, ATOM), MEAN[2]), ("functions", MEAN[1], MEAN[2][:2]))
-BAD_PIECES = (None, ("pieces", (1, 2)), ("pieces", (1, True), SPLIT[2]), ["pieces", (1, 2), SPLIT[2]])
-BAD_TERMS = (None, (), [("word", "w")], (APP,), (("var", 0),), (("lam", ATOM), ("word", "w")), WORD + WORD,
-             (APP,) + WORD + WORD, (("lam", LINE), ("lam", LINE), ("var", 0)), ("word", "w"), (("word", ""),))
 
 
 def slow_links(term, ftype):
@@ -200,8 +194,8 @@ class Plugging(Asking):
     def test_kids(self):
         bad = (None, (), (((1, 0, ()),),) * 2, [((1, 0, ()),)], ((),), (((0, 1, ()),),), (((1, 1, ()),),),
                (((0, 0, ()),),), (((1, 0, ()), (1, 0, ())),), (((1, 0),),), (((1, 0, ["a"]),),), (((1, 0, ("",)),),),
-               (((True, 0, ()),),), (((1, False, ()),),), (([1, 0, ()],),), ([(1, 0, ())],), (((3, 0, ()),),), ((None,),),
-               (((1, 2, ()),),), (((1, -2, ()),),))
+               (((True, 0, ()),),), (((1, False, ()),),), (([1, 0, ()],),), ([(1, 0, ())],), (((3, 0, ()),),),
+               ((None,),), (((1, 2, ()),),), (((1, -2, ()),),))
         self.asks(plugged, {"book": NEST, "functions": MEAN, "con": 1, "kids": (((1, 0, ("x",)),),)},
                   {"book": BAD_BOOKS, "functions": BAD_FUNCTIONS, "con": (3, -1, True, None, "1"), "kids": bad})
         self.same(plugged(NEST, MEAN, 2, ()), ((1, 0, ()),))

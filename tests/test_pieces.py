@@ -9,13 +9,9 @@ from everytongue.silents import silent_pieces, struck
 from everytongue.trimming import trimmed
 from everytongue.twists import is_twist, twisted, twisted_text
 from asking import Asking
-from samples import (DEAD, EMPTY, FOUR, NEST, NO_CONS, NO_STARTS, ODD, PAIRS, SPLIT, random_book, random_pieces,
-                     random_tongues, slow_texts, trees_by_size)
+from samples import (BAD_BOOKS, BAD_PIECES, BAD_TREES, DEAD, EMPTY, FOUR, NEST, NO_CONS, NO_STARTS, ODD, PAIRS, SPLIT,
+                     random_book, random_pieces, random_tongues, slow_texts, trees_by_size)
 
-BAD_BOOKS = (None, (2, (0,)), (2, (2,), NEST[2]), [2, (0,), NEST[2]], (2, (False,), NEST[2]))
-BAD_TREES = ((), (0,), (0, 1), (2, 2), (3,), (True, 2), [0, 2], None, "02", (0, -1), 2)
-BAD_PIECES = (None, ("pieces", (1, 2)), ("pieces", (1, True), SPLIT[2]), ["pieces", (1, 2), SPLIT[2]],
-              ("pieces", (1, 2), SPLIT[2][:2]), ("functions", (1, 2), SPLIT[2]), ("pieces", (2, 2), SPLIT[2]))
 
 
 def with_row(con, row, widths=(1, 2)):

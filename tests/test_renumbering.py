@@ -8,10 +8,8 @@ from everytongue.errors import InvalidText, TooMuch
 from everytongue.renumbering import renumbered, renumbered_tree
 from everytongue.treelines import read_tree, tree_line
 from asking import Asking
-from samples import BOOKS, EMPTY, FOUR, NEST, PAIRS, random_book, trees_by_size
+from samples import BAD_BOOKS, BAD_TREES, BOOKS, EMPTY, FOUR, NEST, PAIRS, random_book, trees_by_size
 
-BAD_BOOKS = (None, (2, (0,)), (2, (2,), NEST[2]), [2, (0,), NEST[2]], (2, (False,), NEST[2]))
-BAD_TREES = ((), (0,), (0, 1), (2, 2), (3,), (True, 2), [0, 2], None, "02", (0, -1), 2)
 
 
 class Renumbering(Asking):

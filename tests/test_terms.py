@@ -10,20 +10,15 @@ from everytongue.termchecker import lets_functions, lets_term
 from everytongue.terms import applied, is_term, tree_term
 from everytongue.worths import function_text, term_text
 from asking import Asking
-from samples import (EMPTY, MEAN, NEST, NO_CONS, NoTerm, ODD, PAIRS, TYPES, function_samples, random_term, slow_kids,
-                     split_type, start_trees, trees_by_size, worth, worth_end)
+from samples import (BAD_BOOKS, BAD_FUNCTIONS, BAD_TERMS, BAD_TREES, EMPTY, MEAN, NEST, NO_CONS, NoTerm, ODD, PAIRS,
+                     TYPES, function_samples, random_term, slow_kids, split_type, start_trees, trees_by_size, worth,
+                     worth_end)
 
 ATOM = (0,)
 LINE = (1, 0, 0)
 APP = ("app",)
 WORD = (("word", "w"),)
 SAME = (("lam", LINE), ("var", 0))
-BAD_BOOKS = (None, (2, (0,)), (2, (2,), NEST[2]), [2, (0,), NEST[2]], (2, (False,), NEST[2]))
-BAD_FUNCTIONS = (None, MEAN[:2], ("functions", (LINE, True), MEAN[2]), list(MEAN), ("pieces",) + MEAN[1:],
-                 ("functions", (LINE, ATOM), MEAN[2]), ("functions", MEAN[1], MEAN[2][:2]))
-BAD_TREES = ((), (0,), (0, 1), (2, 2), (3,), (True, 2), [0, 2], None, "02", (0, -1), 2)
-BAD_TERMS = (None, (), [("word", "w")], (APP,), (("var", 0),), (("lam", ATOM), ("word", "w")), WORD + WORD,
-             (APP,) + WORD + WORD, (("lam", LINE), ("lam", LINE), ("var", 0)), ("word", "w"), (("word", ""),))
 
 
 def all_types(atoms):
@@ -46,7 +41,8 @@ class Types(Asking):
                 thing = tuple([bits >> k & 1 for k in range(length)])
                 self.assertIs(is_type(thing), thing in types, thing)
         for thing in ODD + ((False,), (True, 0, 0), (1, False, 0), (1, 0, 2), (-1,), [1, 0, 0], (1, 0, "0"), "100",
-                            (1, (0,), 0), (2, 0, 0, 0), (1, 0, None), (10 ** 59,), (1, 0, 0, 0), (0, 0)):
+                            (1, (0,), 0), (2, 0, 0, 0), (2, 0, 0, 0, 0), (1, 0, None), (10 ** 59,), (1, 0, 0, 0),
+                            (0, 0)):
             self.assertIs(is_type(thing), False, thing)
         self.assertIs(is_type((1,) * 2000 + (0,) * 2001), True)
         self.assertIs(is_type((1, 0) * 2000 + (0,)), True)
@@ -100,12 +96,13 @@ class Types(Asking):
 class Terms(Asking):
 
     def test_is_term(self):
-        for thing in (WORD, SAME, (("var", 10 ** 59),), (APP,) + WORD + WORD, (("lam", ATOM), ("lam", LINE), ("var", 7)),
-                      (APP, APP, ("var", 0), ("var", 0), ("word", "x")), (APP,) * 2000 + (("var", 1),) * 2001,
-                      (("lam", LINE),) * 4000 + WORD):
+        for thing in (WORD, SAME, (("var", 10 ** 59),), (APP,) + WORD + WORD, 
+                      (("lam", ATOM), ("lam", LINE), ("var", 7)), (APP, APP, ("var", 0), ("var", 0), ("word", "x")),
+                      (APP,) * 2000 + (("var", 1),) * 2001, (("lam", LINE),) * 4000 + WORD):
             self.assertIs(is_term(thing), True)
         for thing in ODD + BAD_TERMS[:4] + ((APP,) + WORD, SAME + WORD, (("lam", LINE),), (("lam",), WORD[0]), (WORD,),
-                                            (("var",),), (("var", -1),), (("var", True),), (("var", "0"),), (("word",),),
+                                            (("var",),), (("var", -1),), (("var", True),), (("var", "0"),),
+                                            (("word",),),
                                             (("word", "a b"),), (("app", 0),), (("lam", (1, 0)), WORD[0]), (("app",),),
                                             (["word", "w"],), (("x", "w"),), ("word", "w"), (("lam", [0]), WORD[0]),
                                             (("word", "w", "w"),), (((),),), ((),), ("app",), ((None, 0),)):
@@ -155,7 +152,8 @@ class Terms(Asking):
         self.asks(done_term, {"term": SAME}, {"term": BAD_TERMS})
         self.asks(term_text, {"term": WORD}, {"term": BAD_TERMS + (SAME, (("lam", (1, 1, 0, 0, 0)), APP, ("var", 0)))})
         step = (APP,) + SAME + WORD
-        self.asks(step_at, {"term": step, "at": 0}, {"term": BAD_TERMS, "at": (1, -1, 4, False, None, "0", (0,), 10 ** 59)})
+        self.asks(step_at, {"term": step, "at": 0}, 
+                  {"term": BAD_TERMS, "at": (1, -1, 4, False, None, "0", (0,), 10 ** 59)})
         self.not_usable("at", step_at, (("lam", ATOM), APP, ("word", "a"), ("var", 0)), 1)
         # True is not 1, although a step can be taken at the place 1.
         inner = (("lam", ATOM), APP, ("lam", ATOM), ("var", 0), ("var", 0))
@@ -188,7 +186,8 @@ class LetsTerm(Asking):
 
     def test_token(self):
         for token in (None, (), "app", ("app", 0), ("word", ""), ("word", "a b"), ("word",), ("var", -1), ("var", True),
-                      ("lam", (1, 0)), ("lam", (False,)), ("lam",), ("other", 0), ["app"], 0, True, (None,), ("var", "0"),
+                      ("lam", (1, 0)), ("lam", (False,)), ("lam",), ("other", 0), ("other", LINE), ("lam", 0),
+                      ["app"], 0, True, (None,), ("var", "0"),
                       (("app",),), ("word", "w", 0)):
             self.invalid("token", 0, lets_term, (token,))
             self.invalid("token", 0, lets_term, (token, ("var", 9)))
@@ -286,7 +285,8 @@ class LetsFunctions(Asking):
         book = (3, (0,), ((0, (1, 2)),))
         types = (LINE, (1, 1, 0, 0, 1, 0, 0), (1, 1, 0, 0, 1, 1, 0, 0, 1, 0, 0))
         body = (APP, APP, ("var", 0), APP, ("var", 1), ("word", "a"), ("word", "b"))
-        self.assertEqual(lets_functions(book, ("functions", types, ((("lam", types[1]), ("lam", types[2])) + body,))), 2)
+        functions = ("functions", types, ((("lam", types[1]), ("lam", types[2])) + body,))
+        self.assertEqual(lets_functions(book, functions), 2)
         body = (APP, APP, ("var", 1), APP, ("var", 0), ("word", "a"), ("word", "b"))
         self.invalid("type", 0, lets_functions, book,
                      ("functions", types, ((("lam", types[2]), ("lam", types[1])) + body,)))
@@ -445,8 +445,9 @@ class Worths(Asking):
             for tree in start_trees(book, 5)[:40]:
                 self.same(function_text(book, functions, tree), worth(tree_term(book, functions, tree))(()))
         self.same(function_text(NEST, MEAN, (0, 1, 1, 2)), ("a", "a", "b", "b"))
-        one = ("functions", (LINE,), (WORD, (("lam", LINE), ("lam", LINE), ("lam", ATOM), APP, ("var", 1), APP, ("var", 2),
-                                             APP, ("word", "x"), ("var", 0))))
+        pair = (("lam", LINE), ("lam", LINE), ("lam", ATOM), APP, ("var", 1), APP, ("var", 2), APP, ("word", "x"),
+                ("var", 0))
+        one = ("functions", (LINE,), (WORD, pair))
         self.same(function_text(PAIRS, one, (1, 0, 1, 0, 0)), ("w", "w", "x", "w", "x"))
         self.assertEqual(len(function_text(PAIRS, one, (1, 0) * 499 + (0,))), 999)
         self.assertEqual(len(function_text(PAIRS, one, (1,) * 499 + (0,) * 500)), 999)

@@ -8,10 +8,9 @@ from everytongue.piecechecker import lets_pieces
 from everytongue.saying import texts_said
 from everytongue.together import again, behind, either
 from asking import Asking
-from samples import DEAD, EMPTY, FOUR, NEST, NO_CONS, NO_STARTS, PAIRS, SPLIT, random_tongues, start_trees
+from samples import BAD_BOOKS, DEAD, EMPTY, FOUR, NEST, NO_CONS, NO_STARTS, PAIRS, SPLIT, random_tongues, start_trees
 
 WORDS = ("pieces", (1,), ((("x",),), (((1, 0), "y", (0, 0)),)))
-BAD_BOOKS = (None, (2, (0,)), (2, (2,), NEST[2]), [2, (0,), NEST[2]], (2, (False,), NEST[2]))
 BAD_ONES = (None, ("pieces", (1, 2)), ("pieces", (1, True), SPLIT[2]), ["pieces", (1, 2), SPLIT[2]], WORDS)
 BAD_OTHERS = (None, ("pieces", (1,)), ("pieces", (True,), WORDS[2]), SPLIT)
 

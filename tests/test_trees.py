@@ -8,12 +8,9 @@ from everytongue.errors import NotUsable, TooMuch
 from everytongue.trees import (height_of, is_context, is_tree, kids_of, node_tree, parents_of, put_in, sort_around,
                                sort_of, tree_of)
 from asking import Asking
-from samples import (BOOKS, DEAD, EMPTY, FOUR, NEST, NO_CONS, ODD, PAIRS, random_book, slow_kids, slow_nodes,
-                     slow_parse, trees_by_size)
+from samples import (BAD_BOOKS, BAD_SORTS, BAD_TREES, BOOKS, DEAD, EMPTY, FOUR, NEST, NO_CONS, ODD, PAIRS,
+                     random_book, slow_kids, slow_nodes, slow_parse, trees_by_size)
 
-BAD_BOOKS = (None, (2, (0,)), (2, (2,), NEST[2]), [2, (0,), NEST[2]], (2, (False,), NEST[2]))
-BAD_SORTS = (2, -1, True, None, (0,), "0", 10 ** 59)
-BAD_TREES = ((), (0,), (0, 1), (2, 2), (3,), (True, 2), [0, 2], None, "02", (0, -1), 2, (0, (2,)))
 
 
 class Trees(Asking):

@@ -7,9 +7,9 @@ from everytongue.checkers import lets_book
 from everytongue.trees import is_context, sort_around
 from everytongue.trimming import live_sorts, looping_sorts, trimmed, used_cons, used_sorts
 from asking import Asking
-from samples import BOOKS, DEAD, EMPTY, FOUR, NEST, NO_CONS, NO_STARTS, PAIRS, random_book, start_trees, trees_by_size
+from samples import (BAD_BOOKS, BOOKS, DEAD, EMPTY, FOUR, NEST, NO_CONS, NO_STARTS, PAIRS, random_book, start_trees,
+                     trees_by_size)
 
-BAD_BOOKS = (None, (2, (0,)), (2, (2,), NEST[2]), [2, (0,), NEST[2]], (2, (False,), NEST[2]))
 
 
 def slow_live(book):

@@ -4,9 +4,8 @@ import unittest
 
 from everytongue.walkerchecker import lets_walker
 from asking import Asking
-from samples import EMPTY, FOUR, NEST, NO_CONS, ODD, WALK
+from samples import BAD_BOOKS, EMPTY, FOUR, NEST, NO_CONS, ODD, WALK
 
-BAD_BOOKS = (None, (2, (0,)), (2, (2,), NEST[2]), [2, (0,), NEST[2]], (2, (False,), NEST[2]))
 RULE = (0, 1, 0, ("a",), 1, 0)
 
 
