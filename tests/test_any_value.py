@@ -97,6 +97,14 @@ class AnyValue(unittest.TestCase):
                 if told[1] in ("shape", "made", "said", "erase"):
                     self.assertIs(is_form(other), False)
 
+    def test_by_name(self):
+        for test in TESTS[:8]:
+            for thing in GOOD + LEAVES:
+                self.assertIs(test(thing=thing), test(thing))
+        for test, book in ((is_tree, NEST), (is_context, NEST)):
+            for thing in GOOD + LEAVES:
+                self.assertIs(test(thing=thing, sort=1, book=book), test(book, 1, thing))
+
     def test_deep(self):
         for make in (lambda thing: (thing,), lambda thing: [thing], lambda thing: (1, thing),
                      lambda thing: ("lam", thing), lambda thing: (thing, (), ()),

@@ -96,7 +96,7 @@ class Types(Asking):
 class Terms(Asking):
 
     def test_is_term(self):
-        for thing in (WORD, SAME, (("var", 10 ** 59),), (APP,) + WORD + WORD, 
+        for thing in (WORD, SAME, (("var", 10 ** 59),), (APP,) + WORD + WORD,
                       (("lam", ATOM), ("lam", LINE), ("var", 7)), (APP, APP, ("var", 0), ("var", 0), ("word", "x")),
                       (APP,) * 2000 + (("var", 1),) * 2001, (("lam", LINE),) * 4000 + WORD):
             self.assertIs(is_term(thing), True)
@@ -152,7 +152,7 @@ class Terms(Asking):
         self.asks(done_term, {"term": SAME}, {"term": BAD_TERMS})
         self.asks(term_text, {"term": WORD}, {"term": BAD_TERMS + (SAME, (("lam", (1, 1, 0, 0, 0)), APP, ("var", 0)))})
         step = (APP,) + SAME + WORD
-        self.asks(step_at, {"term": step, "at": 0}, 
+        self.asks(step_at, {"term": step, "at": 0},
                   {"term": BAD_TERMS, "at": (1, -1, 4, False, None, "0", (0,), 10 ** 59)})
         self.not_usable("at", step_at, (("lam", ATOM), APP, ("word", "a"), ("var", 0)), 1)
         # True is not 1, although a step can be taken at the place 1.
