@@ -4,7 +4,7 @@ from everytongue.checkers import is_any_tree, is_book, is_sort, tree_sort
 from everytongue.errors import TooMuch
 from everytongue.kinds import is_number
 from everytongue.refusing import MOST_NODES, bound_count, bound_nodes, require
-from everytongue.treecounts import joined_count, size_tables, start_count, trees_from
+from everytongue.treecounts import grow_tables, joined_count, open_tables, size_tables, start_count, trees_from
 from everytongue.trees import kid_places, tree_ends
 from everytongue.trimming import used_places
 
@@ -34,7 +34,7 @@ def tree_number(book, tree):
     for at in reversed(range(len(tree))):
         kids = [(sizes[place], ranks[place]) for place in places[at]]
         ranks[at] = rank_of(book, rows, tables, tree[at], kids)
-    number = sum(tables[0][sort][:len(tree)]) + ranks[0]
+    number = sum(tables[0][sort][0][:len(tree)]) + ranks[0]
     bound_count(number)
     return number
 
@@ -46,17 +46,15 @@ def nth_tree(book, sort, number):
     require(is_number(number), "number")
     many = start_count(trees_from(book, sort))
     require(many is None or number < many, "number")
-    most = 8
-    while True:
-        tables = size_tables(book, sort, most)
-        rank = number
-        for size, count in enumerate(tables[0][sort]):
-            if rank < count:
-                return ranked_tree(book, sort, tables, size, rank)
-            rank -= count
-        if most == MOST_NODES:
+    tables = open_tables(book, sort)
+    size, rank = 0, number
+    while rank >= tables[0][sort][0][size]:
+        if size == MOST_NODES:
             raise TooMuch("tree")
-        most = min(2 * most, MOST_NODES)
+        rank -= tables[0][sort][0][size]
+        size += 1
+        grow_tables(tables)
+    return ranked_tree(book, sort, tables, size, rank)
 
 
 def drawn_tree(book, sort, size, number):
@@ -65,7 +63,7 @@ def drawn_tree(book, sort, size, number):
     require(is_sort(book, sort), "sort")
     require(is_number(size), "size")
     tables = size_tables(book, sort, size)
-    many = tables[0][sort][size]
+    many = tables[0][sort][0][size]
     require(many > 0, "size")
     require(is_number(number), "number")
     bound_nodes(size)
@@ -90,17 +88,17 @@ def rank_of(book, rows, tables, con, told):
 
     told has the size and the place of each of its kids' trees.
     """
-    counts, joined = tables
+    counts, joined, _, _ = tables
     result, kids = book[2][con]
     left = sum([size for size, _ in told])
-    rank = sum([joined[book[2][other][1]][left] for other in rows[result] if other < con])
+    rank = sum([joined[book[2][other][1]][0][left] for other in rows[result] if other < con])
     ways = 1
     inner = 0
     for k, (size, place) in enumerate(told):
-        many = counts[kids[k]]
+        many = counts[kids[k]][0]
         # The last kid's size is what the others leave.
         if k + 1 < len(kids):
-            rest = joined[kids[k + 1:]][left - size + 1:left]
+            rest = joined[kids[k + 1:]][0][left - size + 1:left]
             rank += ways * joined_count(many[1:size], rest[::-1])
         ways *= many[size]
         left -= size
@@ -125,29 +123,40 @@ def ranked_tree(book, sort, tables, size, rank):
 def ranked_con(book, row, joined, left, rank):
     """The constructor of the tree at this place, and its place among those with this root."""
     k = 0
-    while rank >= joined[book[2][row[k]][1]][left]:
-        rank -= joined[book[2][row[k]][1]][left]
+    while rank >= joined[book[2][row[k]][1]][0][left]:
+        rank -= joined[book[2][row[k]][1]][0][left]
         k += 1
     return row[k], rank
 
 
 def ranked_kids(tables, kids, left, rank):
     """For each kid of the tree at this place the sort, size and place of its tree."""
-    counts, joined = tables
+    counts, joined, _, _ = tables
     sizes = []
     ways = 1
     for k, kid in enumerate(kids):
-        many, rest = counts[kid], joined[kids[k + 1:]]
-        # The last kid's size is what the others leave.
-        size = 1 if k + 1 < len(kids) else left
-        while rank >= ways * many[size] * rest[left - size]:
-            rank -= ways * many[size] * rest[left - size]
-            size += 1
+        size, rank = ranked_size(counts[kid], joined[kids[k + 1:]], left, ways, rank)
         sizes.append(size)
-        ways *= many[size]
+        ways *= counts[kid][0][size]
         left -= size
     told = []
     for kid, size in zip(kids[::-1], sizes[::-1]):
-        told.append((kid, size, rank % counts[kid][size]))
-        rank //= counts[kid][size]
+        told.append((kid, size, rank % counts[kid][0][size]))
+        rank //= counts[kid][0][size]
     return told[::-1]
+
+
+def ranked_size(one, other, left, ways, rank):
+    """The size that a kid has at this place, and the place among those with this size.
+
+    one is its table, and other that of the rows behind it; left is how many nodes they have
+    in all, and ways in how many ways the kids ahead of it can be told.
+    """
+    sizes = one[1]
+    if len(other[1]) < len(sizes):
+        sizes = [left - size for size in other[1][::-1] if size < left]
+    at = 0
+    while rank >= ways * one[0][sizes[at]] * other[0][left - sizes[at]]:
+        rank -= ways * one[0][sizes[at]] * other[0][left - sizes[at]]
+        at += 1
+    return sizes[at], rank

@@ -12,7 +12,7 @@ def size_counts(book, sort, most):
     require(is_book(book), "book")
     require(is_sort(book, sort), "sort")
     require(is_number(most), "most")
-    counts = size_tables(book, sort, most)[0][sort]
+    counts = size_tables(book, sort, most)[0][sort][0]
     bound_count(max(counts))
     return tuple(counts)
 
@@ -55,25 +55,55 @@ def start_count(book):
 def size_tables(book, sort, most):
     """How many trees, and rows of trees, there are below trees of the sort, by size.
 
-    The first table has, for each sort, a list: at n how many trees have size n.
-    The second one has, for each tuple of sorts that ends a constructor's kids,
-    a list: at n how many rows of trees of these sorts have n nodes in all.
+    A table is a pair of lists: at n how many have n nodes in all, and the n at which
+    there are any. There is one for the trees of each sort, and one for the rows of
+    trees of each tuple of sorts that ends a constructor's kids.
     """
+    tables = open_tables(book, sort)
+    for _ in range(most):
+        grow_tables(tables)
+    return tables
+
+
+def open_tables(book, sort):
+    """The tables as in size_tables, up to size 0; then the constructors and ends that they tell of."""
     cons = [book[2][con] for con in used_places(trees_from(book, sort))]
-    counts = [[0] * (most + 1) for _ in range(book[0])]
     ends = kid_ends(cons)
-    joined = {kids: [0] * (most + 1) for kids in ends}
-    joined[()] = [1] + [0] * most
-    for n in range(1, most + 1):
-        for result, kids in cons:
-            counts[result][n] += joined[kids][n - 1]
-        for kids in ends:
-            first, rest = counts[kids[0]], joined[kids[1:]]
-            if len(kids) == 1:
-                joined[kids][n] = first[n]
-            else:
-                joined[kids][n] = joined_count(first[1:n], rest[n - 1:0:-1])
-    return counts, joined
+    joined = {kids: ([0], []) for kids in ends}
+    joined[()] = ([1], [0])
+    return [([0], []) for _ in range(book[0])], joined, cons, ends
+
+
+def grow_tables(tables):
+    """Add the next size to the tables."""
+    counts, joined, cons, ends = tables
+    size = len(joined[()][0])
+    added = [0] * len(counts)
+    for result, kids in cons:
+        added[result] += joined[kids][0][-1]
+    for table, many in zip(counts, added):
+        add_count(table, size, many)
+    add_count(joined[()], size, 0)
+    for kids in ends:
+        if len(kids) == 1:
+            add_count(joined[kids], size, added[kids[0]])
+        else:
+            add_count(joined[kids], size, count_rows(counts[kids[0]], joined[kids[1:]], size))
+
+
+def add_count(table, size, many):
+    """Add to the table how many there are of this size."""
+    table[0].append(many)
+    if many:
+        table[1].append(size)
+
+
+def count_rows(one, other, size):
+    """How many pairs there are of what two tables tell of, with so many nodes in all, none without nodes."""
+    few, more = (one, other) if len(one[1]) < len(other[1]) else (other, one)
+    if 2 * len(few[1]) > size:
+        return joined_count(few[0][1:size], more[0][size - 1:0:-1])
+    return sum([few[0][part] * more[0][size - part] for part in few[1]])
 
 
 def kid_ends(cons):

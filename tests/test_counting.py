@@ -2,6 +2,7 @@
 
 import math
 import random
+import time
 import unittest
 
 from everytongue.checkers import lets_tree
@@ -29,6 +30,12 @@ def fan(leaves, sorts):
     """A book whose start sort 0 makes four kids of the next sort, and so on; the last sort has leaves."""
     cons = tuple([(sort, (sort + 1,) * 4) for sort in range(sorts)])
     return (sorts + 1, (0,), cons + ((sorts, ()),) * leaves)
+
+
+def layered(kids, *more):
+    """A book of full binary trees: one sort has just one tree, of close to a thousand nodes."""
+    twins = tuple([(k, (k - 1, k - 1)) for k in range(1, 9)])
+    return (12, (9,), ((0, ()), (9, (8, 7, 6, 10)), (10, (5, 4, 2, 11)), (11, kids)) + twins + more)
 
 
 class Counts(Asking):
@@ -193,6 +200,39 @@ class Order(Asking):
         self.not_usable("number", nth_tree, fan(1, 4), 0, 1)
         self.not_usable("number", nth_tree, fan(2, 4), 1, 2 ** 64)
         self.assertEqual(len(nth_tree(fan(2, 4), 1, 2 ** 64 - 1)), 85)
+
+    def test_large_ones(self):
+        """Trees of close to a thousand nodes are told soon, one after another."""
+        start = time.perf_counter()
+        for kids, size in (((0, 0), 999), ((1,), 1000), ((0, 1), 1001), ((0, 0, 1), 1002), ((1, 0), 1001)):
+            for book, number in ((layered(kids), 0), (layered(kids, (9, ())), 1)):
+                for _ in range(10):
+                    if size > 1000:
+                        self.refused(TooMuch, ("tree",), nth_tree, book, 9, number)
+                    else:
+                        tree = nth_tree(book, 9, number)
+                    self.not_usable("number", nth_tree, book, 9, number + 1)
+                if size <= 1000:
+                    self.assertEqual((len(tree), lets_tree(book, tree), tree_number(book, tree)), (size, 9, number))
+                if number:
+                    self.same(nth_tree(book, 9, 0), (12,))
+        self.assertTrue(time.perf_counter() - start < 10)
+
+    def test_large_and_many(self):
+        # Chains side by side: many trees of each size, of some hundred nodes.
+        start = time.perf_counter()
+        book = (4, (0,), ((0, (1, 2, 3)),) + tuple([(k, (k,)) for k in (1, 2, 3)]) + tuple([(k, ()) for k in (1, 2, 3)]))
+        for number in range(0, 10 ** 8, 10 ** 7 + 1):
+            tree = nth_tree(book, 0, number)
+            self.assertEqual(tree_number(book, tree), number)
+        self.assertTrue(len(tree) > 700)
+        # Kids ahead and behind that are large, in turn.
+        for kids in ((0, 1), (1, 0)):
+            book = (2, (0,), ((0, kids), (0, ()), (1, ())))
+            tree = nth_tree(book, 0, 499)
+            self.assertEqual((len(tree), tree_number(book, tree)), (999, 499))
+            self.refused(TooMuch, ("tree",), nth_tree, book, 0, 500)
+        self.assertTrue(time.perf_counter() - start < 10)
 
     def test_drawn(self):
         for book in samples(184, 120):
