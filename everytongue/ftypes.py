@@ -90,3 +90,13 @@ def door_signs(ftype):
 def door_count(ftype):
     """How many doors the type has."""
     return ftype.count(0)
+
+
+def door_numbers(ftype):
+    """For each door, from the left, its number among those that are positive as it is, or aren't, from the right."""
+    numbers = []
+    counts = {True: 0, False: 0}
+    for positive in door_signs(ftype)[::-1]:
+        numbers.append(counts[positive])
+        counts[positive] += 1
+    return numbers[::-1]

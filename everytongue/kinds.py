@@ -58,3 +58,8 @@ def is_ascending(things):
 def is_order(thing, many):
     """Whether thing is a tuple of the first many numbers, each once."""
     return is_each(thing, is_number) and sorted(thing) == list(range(many))
+
+
+def is_vocabulary(thing):
+    """Whether thing is an ascending tuple of words."""
+    return is_text(thing) and is_ascending(thing)

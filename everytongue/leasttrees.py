@@ -129,3 +129,33 @@ def outer_steps(book, sizes):
                 if size is not None and costs[kid] is None:
                     heappush(queue, (cost + size - sizes[kid], kid, further, k))
     return costs, steps
+
+
+def first_roots(book, erase):
+    """For each sort with trees the size and the root of its first tree, by the order of trees as erased.
+
+    The sorts stand in the order of these trees; of those whose first trees erase alike, in any.
+    """
+    uses = kid_uses(book)
+    waits = [len(kids) for _, kids in book[2]]
+    found = {}
+    places = {}
+    queue = []
+    for con, wait in enumerate(waits):
+        if wait == 0:
+            heappush(queue, (1, erase[con], (), (), con))
+    while queue:
+        size, _, _, _, con = heappop(queue)
+        sort = book[2][con][0]
+        if sort in found:
+            continue
+        found[sort] = (size, con)
+        places[sort] = len(places)
+        for further in uses[sort]:
+            waits[further] -= 1
+            if waits[further] == 0:
+                kids = book[2][further][1]
+                sizes = tuple([found[kid][0] for kid in kids])
+                order = tuple([places[kid] for kid in kids])
+                heappush(queue, (1 + sum(sizes), erase[further], sizes, order, further))
+    return found

@@ -1,6 +1,7 @@
 """Forms of tongues of functions."""
 
 from everytongue.checkers import is_book
+from everytongue.closing import paired_book
 from everytongue.erasing import trim_form
 from everytongue.plugging import plugged_ways, shapes_and_ways, wired_con
 from everytongue.refusing import require
@@ -21,18 +22,6 @@ def made_functions(book, functions):
     said = ("pieces", widths, tuple(rows))
     made, erase, said = trim_form((made, tuple([con for con, _, _ in ways]), said))
     return (made, erase, strike(made, said))
-
-
-def paired_book(book, pairs, ways):
-    """The book whose sorts are pairs of a sort and a state, its constructors the ways."""
-    numbers = {pair: number for number, pair in enumerate(pairs)}
-    starts = tuple([number for number, (sort, _) in enumerate(pairs) if sort in book[1]])
-    cons = []
-    for con, states, state in ways:
-        result, kids = book[2][con]
-        kid_numbers = tuple([numbers[pair] for pair in zip(kids, states)])
-        cons.append((numbers[(result, state)], kid_numbers))
-    return (len(pairs), starts, tuple(cons))
 
 
 def way_row(wired, shapes):

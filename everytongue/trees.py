@@ -63,11 +63,7 @@ def parents_of(book, tree):
     """For each node its parent and its place among the parent's kids."""
     require(is_book(book), "book")
     require(is_any_tree(book, tree), "tree")
-    parents = [(-1, -1)] * len(tree)
-    for at, places in enumerate(kid_places(book, tree)):
-        for kid, place in enumerate(places):
-            parents[place] = (at, kid)
-    return tuple(parents)
+    return tuple(parent_places(kid_places(book, tree)))
 
 
 def is_context(book, sort, thing):
@@ -152,3 +148,12 @@ def kid_places(book, tree):
             place = ends[place]
         places.append(row)
     return places
+
+
+def parent_places(places):
+    """For each node its parent and its place among the parent's kids; places has those of kids."""
+    parents = [(-1, -1)] * len(places)
+    for at, row in enumerate(places):
+        for kid, place in enumerate(row):
+            parents[place] = (at, kid)
+    return parents

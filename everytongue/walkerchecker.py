@@ -12,6 +12,11 @@ def lets_walker(book, thing):
     return len(thing[2])
 
 
+def is_walker(book, thing):
+    """Whether thing is a walker of the book."""
+    return walker_fault(book, thing) is None
+
+
 def walker_fault(book, thing):
     """The first entry of lets_walker's list that applies to thing, or None."""
     if not (isinstance(thing, tuple) and len(thing) == 3 and thing[0] == "walker"):
