@@ -20,10 +20,7 @@ def sorts_matched(book, form):
     """The sort that each sort of the form is matched with, or -1."""
     require(is_book(book), "book")
     require(is_form_over(book, form), "form")
-    matched = {}
-    for con, own in zip(form[0][2], form[1]):
-        match_con(matched, con, book[2][own])
-    return tuple([matched.get(sort, -1) for sort in range(form[0][0])])
+    return matched_sorts(book, form)
 
 
 def trimmed_form(form):
@@ -44,6 +41,14 @@ def form_through(form, further):
     require(is_form(form), "form")
     require(is_form_over(form[0], further), "further")
     return (further[0], tuple([form[1][con] for con in further[1]]), further[2])
+
+
+def matched_sorts(book, form):
+    """The sort that each sort of what is known to be a form is matched with, or -1."""
+    matched = {}
+    for con, own in zip(form[0][2], form[1]):
+        match_con(matched, con, book[2][own])
+    return tuple([matched.get(sort, -1) for sort in range(form[0][0])])
 
 
 def whole_form(book, pieces):

@@ -11,9 +11,7 @@ def texts_said(book, pieces, tree):
     require(is_book(book), "book")
     require(is_pieces(book, pieces), "pieces")
     require(is_any_tree(book, tree), "tree")
-    rows = [pieces[2][con] for con in tree]
-    places = kid_places(book, tree)
-    return tuple([piece_text(rows, places, piece) for piece in rows[0]])
+    return tree_texts(book, pieces, tree)
 
 
 def own_words(book, pieces, con):
@@ -31,6 +29,13 @@ def words_said(book, pieces, tree):
     require(is_any_tree(book, tree), "tree")
     counts = [row_words(row) for row in pieces[2]]
     return sum([counts[con] for con in tree])
+
+
+def tree_texts(book, pieces, tree):
+    """The row of texts that a tree says that is known to be one."""
+    rows = [pieces[2][con] for con in tree]
+    places = kid_places(book, tree)
+    return tuple([piece_text(rows, places, piece) for piece in rows[0]])
 
 
 def row_words(row):

@@ -3,30 +3,47 @@
 import random
 import unittest
 
+from everytongue.chains import is_shape
 from everytongue.checkers import lets_book, lets_tree
 from everytongue.errors import InvalidPaper
 from everytongue.formchecker import is_form, lets_form
 from everytongue.ftypes import is_type
+from everytongue.graphs import is_graph
 from everytongue.kinds import is_number, is_quotient, is_text, is_word
+from everytongue.machinechecker import lets_machine
+from everytongue.patterns import is_pattern
 from everytongue.piecechecker import lets_pieces
 from everytongue.termchecker import lets_functions, lets_term
 from everytongue.terms import is_term
+from everytongue.tonguechecker import lets_tongue
 from everytongue.trees import is_context, is_tree
 from everytongue.twists import is_twist
 from everytongue.walkerchecker import lets_walker
+from everytongue.webchecker import lets_webs
+from everytongue.within import said_within
+from everytongue.withinchecker import lets_within
 from samples import MEAN, NEST, SPLIT, WALK
+from waysamples import HALT, MACHINE, NET
 
 FORM = (NEST, (0, 1, 2), SPLIT)
 TWIST = ("recode", (("a", ("c", "d")), ("b", ())))
 LEAVES = (None, True, False, 0, 1, 2, 3, -1, -2, 10 ** 59, -10 ** 59, "", "a", "b", "app", "lam", "var", "word",
           "pieces", "functions", "walker", "same", "mirror", "recode", (), [], (0,), (1, 0, 0), ("app",), "a b",
-          "x" * 17, "0")
+          "x" * 17, "0", "webs", "within", "tree", "any", "then", "again", ((0, 0),), ((0, 1),))
+GRAPH = (3, 4, ((2, 3, ("a",)), (3, 0, ("b", "c")), (0, 1, ())))
+SHAPE = ((0, 3), (2, 5), (5, 0))
+PATTERN = ("again", ("or", ("then", ("word", "a"), ("any",)), ("then", ("empty",), ("word", "z"))))
+WITHIN = said_within(NEST, NET, WALK)
 CHECKERS = (lets_book, lets_term, lambda thing: lets_tree(NEST, thing), lambda thing: lets_pieces(NEST, thing),
             lambda thing: lets_functions(NEST, thing), lambda thing: lets_form(NEST, thing),
-            lambda thing: lets_walker(NEST, thing))
-TESTS = (is_number, is_word, is_text, is_quotient, is_type, is_term, is_form, is_twist,
-         lambda thing: is_tree(NEST, 1, thing), lambda thing: is_context(NEST, 1, thing))
-GOOD = (NEST, (0, 1, 2), SPLIT, MEAN, FORM, WALK, TWIST, MEAN[2][1], (1, 0, 0), (1, 1, 2), (1, -1), ("a", "b"), (2, 3))
+            lambda thing: lets_walker(NEST, thing), lambda thing: lets_webs(NEST, thing),
+            lambda thing: lets_tongue(NEST, thing), lambda thing: lets_within(NEST, NET, WALK, thing),
+            lambda thing: lets_within(NEST, SPLIT, HALT, thing), lets_machine)
+TESTS = (is_number, is_word, is_text, is_quotient, is_type, is_term, is_form, is_twist, is_graph, is_pattern,
+         lambda thing: is_shape(6, thing), lambda thing: is_tree(NEST, 1, thing),
+         lambda thing: is_context(NEST, 1, thing))
+GOOD = (NEST, (0, 1, 2), SPLIT, MEAN, FORM, WALK, TWIST, MEAN[2][1], (1, 0, 0), (1, 1, 2), (1, -1), ("a", "b"), (2, 3),
+        NET, MACHINE, GRAPH, SHAPE, PATTERN, WITHIN, said_within(NEST, SPLIT, HALT))
 
 
 def any_value(rng, depth):
@@ -76,7 +93,7 @@ class AnyValue(unittest.TestCase):
         rng = random.Random(13)
         for thing in GOOD:
             self.ask(thing)
-            for _ in range(1500):
+            for _ in range(1000):
                 self.ask(spoiled(rng, thing))
 
     def test_agree(self):
@@ -98,9 +115,11 @@ class AnyValue(unittest.TestCase):
                     self.assertIs(is_form(other), False)
 
     def test_by_name(self):
-        for test in TESTS[:8]:
+        for test in TESTS[:10]:
             for thing in GOOD + LEAVES:
                 self.assertIs(test(thing=thing), test(thing))
+        for thing in GOOD + LEAVES:
+            self.assertIs(is_shape(thing=thing, rank=6), is_shape(6, thing))
         for test, book in ((is_tree, NEST), (is_context, NEST)):
             for thing in GOOD + LEAVES:
                 self.assertIs(test(thing=thing, sort=1, book=book), test(book, 1, thing))
@@ -117,12 +136,14 @@ class AnyValue(unittest.TestCase):
     def test_true_is_not_one(self):
         """True or False in the place of a number is refused, wherever it stands."""
         for thing, check in ((NEST, lets_book), (MEAN[2][1], lets_term), (SPLIT, CHECKERS[3]), (MEAN, CHECKERS[4]),
-                             (FORM, CHECKERS[5]), (WALK, CHECKERS[6]), ((0, 1, 2), CHECKERS[2])):
+                             (FORM, CHECKERS[5]), (WALK, CHECKERS[6]), ((0, 1, 2), CHECKERS[2]), (NET, CHECKERS[7]),
+                             (NET, CHECKERS[8]), (WITHIN, CHECKERS[9]), (GOOD[-1], CHECKERS[10]),
+                             (MACHINE, lets_machine)):
             check(thing)
             for other in self.with_bools(thing):
                 self.assertRaises(InvalidPaper, check, other)
         for thing, test in (((1, 0, 0), is_type), ((0, 1), is_quotient), ((1, -1), TESTS[-1]), ((1, 1, 2), TESTS[-2]),
-                            (MEAN[2][1], is_term), (FORM, is_form)):
+                            (MEAN[2][1], is_term), (FORM, is_form), (GRAPH, is_graph), (SHAPE, TESTS[-3])):
             self.assertIs(test(thing), True)
             for other in self.with_bools(thing):
                 self.assertIs(test(other), False)
@@ -139,11 +160,14 @@ class AnyValue(unittest.TestCase):
     def test_lists_are_no_tuples(self):
         """A list in the place of a tuple is refused, wherever it stands."""
         for thing, check in ((NEST, lets_book), (MEAN[2][1], lets_term), (SPLIT, CHECKERS[3]), (MEAN, CHECKERS[4]),
-                             (FORM, CHECKERS[5]), (WALK, CHECKERS[6]), ((0, 1, 2), CHECKERS[2])):
+                             (FORM, CHECKERS[5]), (WALK, CHECKERS[6]), ((0, 1, 2), CHECKERS[2]), (NET, CHECKERS[7]),
+                             (NET, CHECKERS[8]), (WITHIN, CHECKERS[9]), (GOOD[-1], CHECKERS[10]),
+                             (MACHINE, lets_machine)):
             for other in self.with_lists(thing):
                 self.assertRaises(InvalidPaper, check, other)
-        for other in self.with_lists(TWIST):
-            self.assertIs(is_twist(other), False)
+        for thing, test in ((TWIST, is_twist), (GRAPH, is_graph), (SHAPE, TESTS[-3]), (PATTERN, is_pattern)):
+            for other in self.with_lists(thing):
+                self.assertIs(test(other), False)
 
     def with_lists(self, thing):
         """All ways to write a list for one tuple in the thing."""

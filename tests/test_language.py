@@ -226,6 +226,32 @@ class Language(unittest.TestCase):
                         if isinstance(node, ast.Subscript) and not isinstance(node.ctx, ast.Load):
                             self.assertNotIn(ast.unparse(node.value), over, loop.lineno)
 
+    def test_lambdas(self):
+        """No two on one line have the same parameters, and no comprehension in one has a name from around it."""
+        for _, _, tree in self.each():
+            lines = []
+            around = parents(tree)
+            for node in ast.walk(tree):
+                if isinstance(node, ast.Lambda):
+                    lines.append((node.lineno, tuple([arg.arg for arg in node.args.args])))
+                    outer = node
+                    while not isinstance(outer, ast.FunctionDef):
+                        outer = around[outer]
+                    names = [inner.id for row in outer.body for inner in self.own_names(row)]
+                    names += [arg.arg for arg in outer.args.args]
+                    for inner in ast.walk(node):
+                        if isinstance(inner, ast.comprehension):
+                            for name in ast.walk(inner.target):
+                                self.assertNotIn(getattr(name, "id", ""), names, node.lineno)
+            self.assertEqual(len(set(lines)), len(lines))
+
+    def own_names(self, node):
+        """The names that a row of a function assigns, without those of comprehensions and lambdas."""
+        if isinstance(node, (ast.ListComp, ast.DictComp, ast.Lambda)):
+            return []
+        found = [node] if isinstance(node, ast.Name) and isinstance(node.ctx, ast.Store) else []
+        return found + [name for inner in ast.iter_child_nodes(node) for name in self.own_names(inner)]
+
     def test_raises(self):
         for _, _, tree in self.each():
             for node in ast.walk(tree):
