@@ -5,7 +5,7 @@ from everytongue.formchecker import is_form, is_form_over, match_con
 from everytongue.kinds import is_each, is_number
 from everytongue.piecechecker import is_pieces
 from everytongue.refusing import require
-from everytongue.trimming import places_of, trim_book, used_flags, used_places
+from everytongue.trimming import is_trimmed, places_of, trim_book, used_flags, used_places
 
 
 def erased(form, tree):
@@ -40,6 +40,16 @@ def form_through(form, further):
     """The form that erases as further does, then as form does."""
     require(is_form(form), "form")
     require(is_form_over(form[0], further), "further")
+    return form_of_form(form, further)
+
+
+def is_trim_form(thing):
+    """Whether thing is a form whose own book is trimmed."""
+    return is_form(thing) and is_trimmed(thing[0])
+
+
+def form_of_form(form, further):
+    """The form that erases as further, a form over the form's own book, does, then as form does."""
     return (further[0], tuple([form[1][con] for con in further[1]]), further[2])
 
 

@@ -91,6 +91,18 @@ def all_items(form, machine):
     return [sorted(row) for row in found]
 
 
+def items_from(moves, states, widths, con, row, lists):
+    """All items, some perhaps twice, that a constructor with this row makes of items in its kids' lists."""
+    joint = kid_joint(moves, states, widths, con[1], row)
+    if not lists:
+        return end_items(joint[1], {})
+    found = []
+    for k, items in enumerate(lists):
+        for item in items:
+            found.extend(new_items(moves, joint, k, item))
+    return found
+
+
 def kid_joint(moves, states, widths, kids, row):
     """How items of the kids of a constructor with this row are joined.
 

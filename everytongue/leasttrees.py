@@ -34,19 +34,7 @@ def least_context(book, sort):
     if costs[sort] is None:
         return None
     bound_nodes(costs[sort])
-    roots = least_roots(book, sizes)
-    front = []
-    back = []
-    inner = sort
-    while steps[inner] is not None:
-        con, at = steps[inner]
-        result, kids = book[2][con]
-        trees = [grown_tree(book, roots, kid) if k != at else () for k, kid in enumerate(kids)]
-        front.append((con,) + tuple([node for tree in trees[:at] for node in tree]))
-        back.append(tuple([node for tree in trees[at + 1:] for node in tree]))
-        inner = result
-    ahead = tuple([node for part in front[::-1] for node in part])
-    return ahead + (-1,) + tuple([node for part in back for node in part])
+    return grown_context(book, least_roots(book, sizes), steps, sort)
 
 
 def made_size(sizes, kids):
@@ -97,6 +85,27 @@ def grown_tree(book, roots, sort):
         nodes.append(con)
         todo.extend(book[2][con][1][::-1])
     return tuple(nodes)
+
+
+def grown_context(book, roots, steps, sort):
+    """The context of the sort that steps tell, as outer_steps does, with the trees of roots beside its hole."""
+    rows = []
+    while steps[sort] is not None:
+        con, at = steps[sort]
+        sort, kids = book[2][con]
+        rows.append((con, at, [grown_tree(book, roots, kid) if k != at else () for k, kid in enumerate(kids)]))
+    return flat_context(rows)
+
+
+def flat_context(rows):
+    """The context of these rows, from its hole outward: a constructor, the hole's place, the kids' trees."""
+    front = []
+    back = []
+    for con, at, trees in rows:
+        front.append((con,) + tuple([node for tree in trees[:at] for node in tree]))
+        back.append(tuple([node for tree in trees[at + 1:] for node in tree]))
+    ahead = tuple([node for part in front[::-1] for node in part])
+    return ahead + (-1,) + tuple([node for part in back for node in part])
 
 
 def outer_steps(book, sizes):

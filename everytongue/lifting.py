@@ -13,6 +13,11 @@ def lifted(book, form, tongue):
     require(is_book(book), "book")
     require(is_form_over(book, form) and is_trimmed(form[0]), "form")
     require(is_tongue(book, tongue), "tongue")
+    return lift(book, form, tongue)
+
+
+def lift(book, form, tongue):
+    """The tongue of the book of what is known to be a form, its own book trimmed."""
     if tongue[0] == "walker":
         return ("walker", tongue[1], lifted_rules(form[1], tongue[2]))
     told = tuple([tongue[1][sort] for sort in matched_sorts(book, form)])

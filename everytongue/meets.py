@@ -20,16 +20,32 @@ def meet(form, machine):
     """A form of just those start trees whose text the machine takes."""
     require(is_form(form), "form")
     require(is_machine(machine), "machine")
+    return met_form(form, machine)
+
+
+def met_form(form, machine):
+    """The meet of what are known to be a form and a machine."""
+    starts, ways_of = met_ways(form, machine)
+    return grown_form(starts, ways_of)
+
+
+def met_ways(form, machine):
+    """The start sorts of the meet: pairs of a sort and an item; then what tells, as for grown_book, their ways."""
     made, _, said = form
     items = all_items(form, machine)
     moves = machine_moves(machine)
     joints = [item_joint(moves, said[1], items, kids, row) for (_, kids), row in zip(made[2], said[2])]
-    finals = {((0, state),): True for state in machine[1]}
-    starts = [(start, item) for start in made[1] for item in items[start] if item in finals]
     cons = [[] for _ in range(made[0])]
     for con, (result, _) in enumerate(made[2]):
         cons[result].append(con)
-    return grown_form(starts, lambda key: item_ways(form, moves, joints, cons[key[0]], key[1]))
+    starts = taken_starts(made, items, machine)
+    return starts, lambda key: item_ways(form, moves, joints, cons[key[0]], key[1])
+
+
+def taken_starts(made, items, machine):
+    """The pairs of a start sort and one of its items that texts have which the machine takes."""
+    finals = {((0, state),): True for state in machine[1]}
+    return [(start, item) for start in made[1] for item in items[start] if item in finals]
 
 
 def item_joint(moves, widths, items, kids, row):

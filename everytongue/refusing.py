@@ -32,3 +32,11 @@ def bound_count(many):
     """Refuse to return a number of trees that is too great."""
     if many >= count_limit():
         raise TooMuch("count")
+
+
+def capped(many):
+    """The number of trees, or the limit of counts if it is beyond that."""
+    # Small numbers, and most are, need not be compared with so great a one.
+    if many.bit_length() < 10000:
+        return many
+    return min(many, count_limit())

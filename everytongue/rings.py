@@ -50,3 +50,33 @@ def ring_nodes(edges):
         if any([parts[further] == parts[node] for further in row]):
             found.append(node)
     return found
+
+
+def ordered_parts(edges):
+    """The lists of nodes that lead to each other, each list behind those to which it leads."""
+    parts = ring_parts(edges)
+    order = finish_order(edges)
+    last = {}
+    for place, node in enumerate(order):
+        last[parts[node]] = place
+    members = {}
+    for node, part in enumerate(parts):
+        members.setdefault(part, []).append(node)
+    # What leads on to another part ends behind all of that part.
+    return [members[part] for _, part in sorted([(place, part) for part, place in last.items()])]
+
+
+def lasting_nodes(edges):
+    """For each node whether one can go on from it for ever."""
+    back = turned_edges(edges)
+    waits = [len(row) for row in edges]
+    lasts = [True] * len(edges)
+    todo = [node for node, wait in enumerate(waits) if wait == 0]
+    while todo:
+        node = todo.pop()
+        lasts[node] = False
+        for before in back[node]:
+            waits[before] -= 1
+            if waits[before] == 0:
+                todo.append(before)
+    return lasts

@@ -43,6 +43,22 @@ def row_words(row):
     return len([item for piece in row for item in piece if isinstance(item, str)])
 
 
+def filled_row(row, kids):
+    """The row of texts that a constructor with this row makes of those of its kids."""
+    return tuple([filled_piece(piece, kids) for piece in row])
+
+
+def filled_piece(piece, kids):
+    """The text of a piece; kids has the row of texts of each kid."""
+    text = []
+    for item in piece:
+        if isinstance(item, str):
+            text.append(item)
+        else:
+            text.extend(kids[item[0]][item[1]])
+    return tuple(text)
+
+
 def piece_text(rows, places, piece):
     """The text of a piece of the root; rows and places tell the row and the kids of each node."""
     text = []

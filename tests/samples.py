@@ -279,3 +279,41 @@ def worth_end(term, at):
     for _ in range(many):
         end = worth_end(term, end)
     return end
+
+
+def power_book(many):
+    """A book with 10 ** many start trees: a sort with ten, squares of it, and their product."""
+    cons = [(0, ())] * 10
+    levels = 0
+    while 2 ** (levels + 1) <= many:
+        levels += 1
+        cons.append((levels, (levels - 1,) * 2))
+    sorts = levels + 1
+    cons.append((sorts, ()))
+    for level in range(levels + 1):
+        if many >> level & 1:
+            cons.append((sorts + 1, (level, sorts)))
+            sorts += 1
+    return (sorts + 1, (sorts,), tuple(cons))
+
+
+def nines_book(many):
+    """A book with 10 ** many - 1 start trees."""
+    # Sort 2 k has 10 ** n, sort 2 k + 1 one fewer, n being the first figures of many.
+    cons = [(0, ())] * 10 + [(1, ())] * 9
+    sorts, number = 2, 1
+    for figure in bin(many)[3:]:
+        cons.extend([(sorts, (sorts - 2,) * 2), (sorts + 1, (sorts - 1, sorts - 2)), (sorts + 1, (sorts - 1,))])
+        sorts, number = sorts + 2, 2 * number
+        if figure == "1":
+            cons.extend([(sorts, (sorts - 2,))] * 10 + [(sorts + 1, (sorts - 1,))] * 10)
+            cons.extend([(sorts + 1, ())] * 9)
+            sorts, number = sorts + 2, number + 1
+    assert number == many
+    return (sorts, (sorts - 1,), tuple(cons))
+
+
+def silent_tongue(book, word=()):
+    """The tongue in pieces of width 1 that puts together what kids say; constructors without kids say word."""
+    rows = tuple([(tuple([(kid, 0) for kid in range(len(kids))]) if kids else word,) for _, kids in book[2]])
+    return ("pieces", (1,) * book[0], rows)

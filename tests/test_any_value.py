@@ -9,8 +9,12 @@ from everytongue.errors import InvalidPaper
 from everytongue.formchecker import is_form, lets_form
 from everytongue.ftypes import is_type
 from everytongue.graphs import is_graph
+from everytongue.growth import growth
+from everytongue.growthchecker import lets_growth
 from everytongue.kinds import is_number, is_quotient, is_text, is_word
 from everytongue.machinechecker import lets_machine
+from everytongue.noreading import lets_no_reading, no_reading
+from everytongue.notranslation import lets_no_translation, no_translation
 from everytongue.patterns import is_pattern
 from everytongue.piecechecker import lets_pieces
 from everytongue.termchecker import lets_functions, lets_term
@@ -34,16 +38,26 @@ GRAPH = (3, 4, ((2, 3, ("a",)), (3, 0, ("b", "c")), (0, 1, ())))
 SHAPE = ((0, 3), (2, 5), (5, 0))
 PATTERN = ("again", ("or", ("then", ("word", "a"), ("any",)), ("then", ("empty",), ("word", "z"))))
 WITHIN = said_within(NEST, NET, WALK)
+FEW = ((2, (0,), ((0, (1, 1)), (1, ()), (1, ()))), (0, 1, 2),
+       ("pieces", (1, 1), ((((0, 0), (1, 0)),), (("a",),), ((),))))
+# Papers, each with its checker.
+PAPERS = ((no_reading(NEST, SPLIT, ("a",)), lambda thing: lets_no_reading(NEST, SPLIT, ("a",), thing)),
+          (no_translation(NEST, SPLIT, ("a", "b"), HALT), lambda value: lets_no_translation(NEST, SPLIT, ("a", "b"), HALT, value)),
+          (no_translation(NEST, SPLIT, ("b",), HALT), lambda value: lets_no_translation(NEST, SPLIT, ("b",), HALT, value)),
+          (growth(FEW), lambda thing: lets_growth(FEW, thing)),
+          (growth(FORM), lambda thing: lets_growth(FORM, thing)))
 CHECKERS = (lets_book, lets_term, lambda thing: lets_tree(NEST, thing), lambda thing: lets_pieces(NEST, thing),
             lambda thing: lets_functions(NEST, thing), lambda thing: lets_form(NEST, thing),
             lambda thing: lets_walker(NEST, thing), lambda thing: lets_webs(NEST, thing),
             lambda thing: lets_tongue(NEST, thing), lambda thing: lets_within(NEST, NET, WALK, thing),
-            lambda thing: lets_within(NEST, SPLIT, HALT, thing), lets_machine)
+            lambda thing: lets_within(NEST, SPLIT, HALT, thing), lets_machine) + tuple([check for _, check in PAPERS])
 TESTS = (is_number, is_word, is_text, is_quotient, is_type, is_term, is_form, is_twist, is_graph, is_pattern,
          lambda thing: is_shape(6, thing), lambda thing: is_tree(NEST, 1, thing),
          lambda thing: is_context(NEST, 1, thing))
 GOOD = (NEST, (0, 1, 2), SPLIT, MEAN, FORM, WALK, TWIST, MEAN[2][1], (1, 0, 0), (1, 1, 2), (1, -1), ("a", "b"), (2, 3),
         NET, MACHINE, GRAPH, SHAPE, PATTERN, WITHIN, said_within(NEST, SPLIT, HALT))
+# What is spoiled, one by one.
+SPOILED = GOOD + tuple([paper for paper, _ in PAPERS])
 
 
 def any_value(rng, depth):
@@ -91,9 +105,9 @@ class AnyValue(unittest.TestCase):
 
     def test_spoiled(self):
         rng = random.Random(13)
-        for thing in GOOD:
+        for thing in SPOILED:
             self.ask(thing)
-            for _ in range(1000):
+            for _ in range(800):
                 self.ask(spoiled(rng, thing))
 
     def test_agree(self):
@@ -138,7 +152,7 @@ class AnyValue(unittest.TestCase):
         for thing, check in ((NEST, lets_book), (MEAN[2][1], lets_term), (SPLIT, CHECKERS[3]), (MEAN, CHECKERS[4]),
                              (FORM, CHECKERS[5]), (WALK, CHECKERS[6]), ((0, 1, 2), CHECKERS[2]), (NET, CHECKERS[7]),
                              (NET, CHECKERS[8]), (WITHIN, CHECKERS[9]), (GOOD[-1], CHECKERS[10]),
-                             (MACHINE, lets_machine)):
+                             (MACHINE, lets_machine)) + PAPERS:
             check(thing)
             for other in self.with_bools(thing):
                 self.assertRaises(InvalidPaper, check, other)
@@ -162,7 +176,7 @@ class AnyValue(unittest.TestCase):
         for thing, check in ((NEST, lets_book), (MEAN[2][1], lets_term), (SPLIT, CHECKERS[3]), (MEAN, CHECKERS[4]),
                              (FORM, CHECKERS[5]), (WALK, CHECKERS[6]), ((0, 1, 2), CHECKERS[2]), (NET, CHECKERS[7]),
                              (NET, CHECKERS[8]), (WITHIN, CHECKERS[9]), (GOOD[-1], CHECKERS[10]),
-                             (MACHINE, lets_machine)):
+                             (MACHINE, lets_machine)) + PAPERS:
             for other in self.with_lists(thing):
                 self.assertRaises(InvalidPaper, check, other)
         for thing, test in ((TWIST, is_twist), (GRAPH, is_graph), (SHAPE, TESTS[-3]), (PATTERN, is_pattern)):

@@ -71,6 +71,23 @@ INTERFACE = {
     "patterns": ("is_pattern(thing)", "pattern_machine(pattern, vocabulary)"),
     "items": ("items_made(form, machine, con, items)", "items_of(form, machine)"),
     "meets": ("form_words(form)", "meet(form, machine)"),
+    "readings": ("readings(book, tongue, words)", "count_readings(book, tongue, words)",
+                 "first_readings(book, tongue, words, most)"),
+    "noreading": ("no_reading(book, tongue, words)", "lets_no_reading(book, tongue, words, thing)"),
+    "beginnings": ("sure_beginning(book, tongue, words)", "next_words(book, tongue, words)",
+                   "completion(book, tongue, words)"),
+    "translating": ("translations(book, one, words, other)", "translated(book, one, words, other, most)"),
+    "notranslation": ("no_translation(book, one, words, other)",
+                      "lets_no_translation(book, one, words, other, thing)"),
+    "returning": ("back_and_forth(book, one, words, other, most)",),
+    "textrows": ("is_endless(form)", "text_rows(form)", "sentences_of(form, most)"),
+    "shortest": ("shortest(form)",),
+    "growth": ("growth(form)",),
+    "growthchecker": ("lets_growth(form, thing)",),
+    "wordcounts": ("word_counts(form, most)",),
+    "quotients": ("quotient_of(top, bottom)", "added(one, other)", "multiplied(one, other)"),
+    "codes": ("code_of(words, digits)", "joined_codes(one, other)", "text_by(value, digits)"),
+    "vectors": ("vector_size(width)", "vector_of(row, digits)", "vector_made(book, pieces, con, vectors, digits)"),
 }
 
 

@@ -21,13 +21,13 @@ NODES = (
     ast.UnaryOp, ast.Not, ast.USub, ast.Compare, ast.Eq, ast.NotEq, ast.Lt, ast.LtE, ast.Gt, ast.GtE, ast.In, ast.NotIn,
     ast.Is, ast.IsNot, ast.Call, ast.keyword, ast.Constant, ast.Name, ast.Load, ast.Store, ast.Del, ast.Attribute,
     ast.Subscript, ast.Slice, ast.List, ast.Tuple, ast.Dict, ast.ListComp, ast.DictComp, ast.comprehension, ast.IfExp,
-    ast.Lambda)
+    ast.Lambda, ast.LShift, ast.RShift, ast.BitAnd, ast.BitOr)
 BUILTINS = ("len", "range", "enumerate", "zip", "min", "max", "sum", "abs", "sorted", "reversed", "int", "str", "bool",
             "list", "tuple", "dict", "set", "isinstance", "ord", "repr", "any", "all", "divmod", "ValueError")
-METHODS = ("append", "clear", "copy", "count", "endswith", "extend", "find", "get", "index", "insert", "items", "join",
+METHODS = ("append", "bit_length", "clear", "copy", "count", "endswith", "extend", "find", "get", "index", "insert", "items", "join",
            "keys", "pop", "remove", "replace", "reverse", "setdefault", "split", "startswith", "strip", "update",
            "values")
-LIBRARY = {"heapq": ("heappush", "heappop"), "math": ("gcd",)}
+LIBRARY = {"heapq": ("heapify", "heappush", "heappop"), "math": ("gcd",)}
 SPOTS = ("list", "tuple", "dict", "sorted", "sum", "any", "all", "enumerate", "zip", "min", "max")
 CHANGES = ("append", "clear", "extend", "insert", "pop", "remove", "reverse", "setdefault", "update")
 # Doctests leave an underscore behind.

@@ -18,6 +18,7 @@ BAD_WALKERS = (None, WALK[:2], list(WALK), ("walker", True, WALK[2]), ("walker",
 BAD_WEBS = (None, NET[:2], list(NET), ("webs", (2, True), NET[2]), ("webs", (1, 2), NET[2]), ("webs", (2, 2), NET[2][:2]),
             ("webs", (2, 2), NET[2][:2] + ((2, (0, 1), ((0, 0, ()),), ()),)), ("walker",) + NET[1:], WALK)
 BAD_TONGUES = BAD_PIECES + BAD_FUNCTIONS + BAD_WALKERS[:-1] + BAD_WEBS[:-1] + ((), "pieces", (("pieces",),), 0)
+BAD_TEXTS = (None, "a", ["a"], ("",), ("a", 1), ("a b",), (("a",),), True, ("it's",), ("x" * 17,))
 
 # Forms over NEST that are not as stated, and machines.
 BAD_FORMS = (None, (), (NEST, (0, 1, 2)), (NEST, (0, 1), SPLIT), (NEST, (0, 1, True), SPLIT), [NEST, (0, 1, 2), SPLIT],
