@@ -143,23 +143,28 @@ def outer_steps(book, sizes):
 def first_roots(book, erase):
     """For each sort with trees the size and the root of its first tree, by the order of trees as erased.
 
-    The sorts stand in the order of these trees; of those whose first trees erase alike, in any.
+    The sorts stand in the order of these trees.
     """
     uses = kid_uses(book)
     waits = [len(kids) for _, kids in book[2]]
     found = {}
     places = {}
     queue = []
+    last, place = (), 0
     for con, wait in enumerate(waits):
         if wait == 0:
             heappush(queue, (1, erase[con], (), (), con))
     while queue:
-        size, _, _, _, con = heappop(queue)
+        entry = heappop(queue)
+        size, con = entry[0], entry[4]
         sort = book[2][con][0]
         if sort in found:
             continue
+        # First trees of several sorts that erase alike share one place.
+        if entry[:4] != last:
+            last, place = entry[:4], len(found)
+        places[sort] = place
         found[sort] = (size, con)
-        places[sort] = len(places)
         for further in uses[sort]:
             waits[further] -= 1
             if waits[further] == 0:

@@ -13,12 +13,7 @@ def order_key(book, tree):
     """A tuple; trees stand in order as their tuples do."""
     require(is_book(book), "book")
     require(is_any_tree(book, tree), "tree")
-    sizes = node_sizes(book, tree)
-    key = [len(tree)]
-    for con, places in zip(tree, kid_places(book, tree)):
-        key.append(con)
-        key.extend([sizes[place] for place in places])
-    return tuple(key)
+    return tree_key(book, tree, list(range(len(book[2]))))
 
 
 def tree_number(book, tree):
@@ -68,6 +63,16 @@ def drawn_tree(book, sort, size, number):
     require(is_number(number), "number")
     bound_nodes(size)
     return ranked_tree(book, sort, tables, size, number % many)
+
+
+def tree_key(book, tree, erase):
+    """The tuple by which a tree stands in the order of trees as erased."""
+    sizes = node_sizes(book, tree)
+    key = [len(tree)]
+    for con, places in zip(tree, kid_places(book, tree)):
+        key.append(erase[con])
+        key.extend([sizes[place] for place in places])
+    return tuple(key)
 
 
 def node_sizes(book, tree):

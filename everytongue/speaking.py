@@ -15,13 +15,7 @@ def says(book, tongue, start_tree):
     require(is_book(book), "book")
     require(is_tongue(book, tongue), "tongue")
     require(is_start_tree(book, start_tree), "start_tree")
-    if tongue[0] == "pieces":
-        return tree_texts(book, tongue, start_tree)[0]
-    if tongue[0] == "functions":
-        return worth_text(whole_term(book, tongue, start_tree))
-    if tongue[0] == "walker":
-        return walked_text(book, tongue, start_tree)
-    return row_words(glued_graph(book, tongue, start_tree))
+    return text_said(book, tongue, start_tree)
 
 
 def words_of(book, tongue):
@@ -37,6 +31,17 @@ def words_of(book, tongue):
     else:
         words = [word for row in tongue[2] for edge in row[2] for word in edge[2]]
     return tuple(sorted(set(words)))
+
+
+def text_said(book, tongue, start_tree):
+    """What says returns, for what is known to be a start tree."""
+    if tongue[0] == "pieces":
+        return tree_texts(book, tongue, start_tree)[0]
+    if tongue[0] == "functions":
+        return worth_text(whole_term(book, tongue, start_tree))
+    if tongue[0] == "walker":
+        return walked_text(book, tongue, start_tree)
+    return row_words(glued_graph(book, tongue, start_tree))
 
 
 def words_in(rows):

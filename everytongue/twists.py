@@ -27,6 +27,11 @@ def twisted(book, pieces, twist):
     require(is_book(book), "book")
     require(is_pieces(book, pieces), "pieces")
     require(is_twist(twist), "twist")
+    return turned_pieces(pieces, twist)
+
+
+def turned_pieces(pieces, twist):
+    """What twisted returns, for what is known to be a tongue in pieces."""
     rows = tuple([tuple([turned(piece, twist) for piece in row]) for row in pieces[2]])
     return ("pieces", pieces[1], rows)
 

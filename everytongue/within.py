@@ -3,7 +3,7 @@
 from everytongue.checkers import is_book
 from everytongue.closing import closed_states, paired_book
 from everytongue.leasttrees import first_roots, grown_tree
-from everytongue.refusing import bound_nodes, require
+from everytongue.refusing import MOST_NODES, bound_nodes, require
 from everytongue.states import says_in, state_maker
 from everytongue.tonguechecker import is_tongue
 
@@ -22,16 +22,30 @@ def said_within(book, one, other):
     require(is_tongue(book, one), "one")
     require(is_tongue(book, other), "other")
     rows, ways = pairs_and_ways(book, one, other)
-    pairs = [(sort, pair) for sort, row in enumerate(rows) for pair in row]
-    erase = [con for con, _, _ in ways]
-    made = paired_book(book, pairs, ways)
-    found = first_roots(made, erase)
-    for start in found:
-        if start in made[1] and is_short(one, other, pairs[start][1]):
-            bound_nodes(found[start][0])
-            roots = {sort: con for sort, (_, con) in found.items()}
-            return ("tree", tuple([erase[con] for con in grown_tree(made, roots, start)]))
+    erase = list(range(len(book[2])))
+    size, tree = first_such(book, erase, rows, ways, lambda pair: is_short(one, other, pair))
+    if size > 0:
+        bound_nodes(size)
+        return ("tree", tree)
     return ("within", tuple([tuple(row) for row in rows]))
+
+
+def first_such(book, erase, rows, ways, holds):
+    """The size of the first start tree, by the order of trees as erased, of whose pair of states holds is true.
+
+    Then this tree, or () if it has too many nodes; 0 and () if there is none. rows and ways are what
+    pairs_and_ways tells.
+    """
+    pairs = [(sort, pair) for sort, row in enumerate(rows) for pair in row]
+    made = paired_book(book, pairs, ways)
+    found = first_roots(made, [erase[con] for con, _, _ in ways])
+    for start, (size, _) in found.items():
+        if start in made[1] and holds(pairs[start][1]):
+            if size > MOST_NODES:
+                return size, ()
+            roots = {sort: con for sort, (_, con) in found.items()}
+            return size, tuple([ways[con][0] for con in grown_tree(made, roots, start)])
+    return 0, ()
 
 
 def pair_maker(one, other):
@@ -58,3 +72,8 @@ def pairs_and_ways(book, one, other):
 def is_short(one, other, pair):
     """Whether one says something of start trees with these states, and other nothing."""
     return says_in(one, pair[0]) and not says_in(other, pair[1])
+
+
+def is_uneven(one, other, pair):
+    """Whether one of two tongues alone says something of start trees with these states."""
+    return says_in(one, pair[0]) != says_in(other, pair[1])

@@ -26,7 +26,7 @@ def within_fault(book, one, other, thing):
         return None if is_short_tree(book, one, other, thing[1]) else ("tree", -1)
     if thing[0] != "within":
         return ("shape", -1)
-    return pairs_fault(book, one, other, thing[1])
+    return pairs_fault(book, one, other, lambda pair: is_short(one, other, pair), thing[1])
 
 
 def is_short_tree(book, one, other, thing):
@@ -36,8 +36,11 @@ def is_short_tree(book, one, other, thing):
     return is_short(one, other, tree_state(book, pair_maker(one, other), thing))
 
 
-def pairs_fault(book, one, other, thing):
-    """The first entry of lets_within's list that applies to what "within" tells, or None."""
+def pairs_fault(book, one, other, fails, thing):
+    """The first entry of lets_within's list that applies to what "within" tells, or None.
+
+    fails tells of a pair of states of start trees that it must not be listed.
+    """
     if not (is_each(thing, is_tuple) and len(thing) == book[0]):
         return ("pairs", -1)
     for sort, pairs in enumerate(thing):
@@ -50,7 +53,7 @@ def pairs_fault(book, one, other, thing):
             if make(con, row) not in listed[result]:
                 return ("open", con)
     for start in book[1]:
-        if any([is_short(one, other, pair) for pair in thing[start]]):
+        if any([fails(pair) for pair in thing[start]]):
             return ("start", start)
     return None
 

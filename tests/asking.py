@@ -1,6 +1,7 @@
 """What tests ask of functions that refuse what they are passed."""
 
 import copy
+import re
 import unittest
 
 from everytongue.errors import InvalidPaper, NotUsable, TongueError
@@ -18,7 +19,9 @@ class Asking(unittest.TestCase):
         self.assertEqual(tuple(vars(caught.exception).values()), fields, args)
         for field in vars(caught.exception).values():
             self.assertIn(type(field), (str, int))
-        self.same((args, named), before)
+        self.assertEqual((args, named), before)
+        # Objects are shown with where they are kept.
+        self.same(re.sub(" at 0x[0-9a-f]+", "", repr((args, named))), re.sub(" at 0x[0-9a-f]+", "", repr(before)))
 
     def same(self, one, other):
         """Two values are equal, and of the same kinds throughout."""

@@ -3,6 +3,8 @@
 import random
 import unittest
 
+from everytongue.alike import alike
+from everytongue.alikechecker import lets_alike
 from everytongue.chains import is_shape
 from everytongue.checkers import lets_book, lets_tree
 from everytongue.errors import InvalidPaper
@@ -12,6 +14,7 @@ from everytongue.graphs import is_graph
 from everytongue.growth import growth
 from everytongue.growthchecker import lets_growth
 from everytongue.kinds import is_number, is_quotient, is_text, is_word
+from everytongue.lexicons import is_lexicon, is_name
 from everytongue.machinechecker import lets_machine
 from everytongue.noreading import lets_no_reading, no_reading
 from everytongue.notranslation import lets_no_translation, no_translation
@@ -45,19 +48,23 @@ PAPERS = ((no_reading(NEST, SPLIT, ("a",)), lambda thing: lets_no_reading(NEST, 
           (no_translation(NEST, SPLIT, ("a", "b"), HALT), lambda value: lets_no_translation(NEST, SPLIT, ("a", "b"), HALT, value)),
           (no_translation(NEST, SPLIT, ("b",), HALT), lambda value: lets_no_translation(NEST, SPLIT, ("b",), HALT, value)),
           (growth(FEW), lambda thing: lets_growth(FEW, thing)),
-          (growth(FORM), lambda thing: lets_growth(FORM, thing)))
+          (growth(FORM), lambda thing: lets_growth(FORM, thing)),
+          (alike(NEST, NET, WALK, ("same",)), lambda value: lets_alike(NEST, NET, WALK, ("same",), value)),
+          (alike(NEST, SPLIT, WALK, ("mirror",)), lambda value: lets_alike(NEST, SPLIT, WALK, ("mirror",), value)))
+LEXICON = (("s", "a"), ("top", "wrap", "end"))
 CHECKERS = (lets_book, lets_term, lambda thing: lets_tree(NEST, thing), lambda thing: lets_pieces(NEST, thing),
             lambda thing: lets_functions(NEST, thing), lambda thing: lets_form(NEST, thing),
             lambda thing: lets_walker(NEST, thing), lambda thing: lets_webs(NEST, thing),
             lambda thing: lets_tongue(NEST, thing), lambda thing: lets_within(NEST, NET, WALK, thing),
             lambda thing: lets_within(NEST, SPLIT, HALT, thing), lets_machine) + tuple([check for _, check in PAPERS])
-TESTS = (is_number, is_word, is_text, is_quotient, is_type, is_term, is_form, is_twist, is_graph, is_pattern,
+TESTS = (is_number, is_word, is_text, is_quotient, is_type, is_term, is_form, is_twist, is_graph, is_pattern, is_name,
+         lambda thing: is_lexicon(NEST, thing),
          lambda thing: is_shape(6, thing), lambda thing: is_tree(NEST, 1, thing),
          lambda thing: is_context(NEST, 1, thing))
 GOOD = (NEST, (0, 1, 2), SPLIT, MEAN, FORM, WALK, TWIST, MEAN[2][1], (1, 0, 0), (1, 1, 2), (1, -1), ("a", "b"), (2, 3),
         NET, MACHINE, GRAPH, SHAPE, PATTERN, WITHIN, said_within(NEST, SPLIT, HALT))
 # What is spoiled, one by one.
-SPOILED = GOOD + tuple([paper for paper, _ in PAPERS])
+SPOILED = GOOD + (LEXICON, "top") + tuple([paper for paper, _ in PAPERS])
 
 
 def any_value(rng, depth):
@@ -129,7 +136,7 @@ class AnyValue(unittest.TestCase):
                     self.assertIs(is_form(other), False)
 
     def test_by_name(self):
-        for test in TESTS[:10]:
+        for test in TESTS[:11]:
             for thing in GOOD + LEAVES:
                 self.assertIs(test(thing=thing), test(thing))
         for thing in GOOD + LEAVES:

@@ -87,7 +87,30 @@ INTERFACE = {
     "wordcounts": ("word_counts(form, most)",),
     "quotients": ("quotient_of(top, bottom)", "added(one, other)", "multiplied(one, other)"),
     "codes": ("code_of(words, digits)", "joined_codes(one, other)", "text_by(value, digits)"),
+    "common": ("common_form(book, one, other)", "pair_digits(said, other_said)"),
+    "listing": ("listed(book, one, other, twist)",),
+    "alike": ("parts_at(book, one, other, twist, start_tree)", "alike(book, one, other, twist)"),
+    "alikechecker": ("lets_alike(book, one, other, twist, thing)",),
+    "grounds": ("alike_on(book, ground, one, other, twist)",),
+    "lexicons": ("is_name(thing)", "is_lexicon(book, thing)", "named_tree(book, lexicon, tree)",
+                 "read_named(book, lexicon, text)"),
+    "booktexts": ("book_text(book, lexicon)",),
+    "bookreadings": ("read_book(text)",),
+    "tonguetexts": ("tongue_text(book, lexicon, tongue)",),
+    "tonguereadings": ("read_tongue(book, lexicon, text)",),
+    "marked": ("marked_items(book, tongue, words, at, out)",),
+    "desk": ("desk_line(library, line)",),
     "vectors": ("vector_size(width)", "vector_of(row, digits)", "vector_made(book, pieces, con, vectors, digits)"),
+}
+
+CLASSES = {
+    "spaces": ("Space(size)", "take(self, vector)", "parts(self, vector)", "told(self)", "__len__(self)",
+               "__eq__(self, other)"),
+    "kept": ("Kept(book, tongue, words)", "edit(self, at, out, put)", "undo(self)", "text(self)", "how_many(self)",
+             "first(self, most)", "next_words(self)", "sure(self)", "paper(self)", "__eq__(self, other)"),
+    "library": ("Library()", "put_book(self, name, text)", "put_tongue(self, name, book_name, text)", "drop(self, name)",
+                "rename(self, name, new)", "undo(self, steps)", "text_of(self, name)", "names(self)",
+                "book_of(self, name)", "tongue_of(self, name)", "log(self)", "__eq__(self, other)"),
 }
 
 
@@ -102,6 +125,20 @@ class Interface(unittest.TestCase):
                 function = line.split("(")[0]
                 self.assertIn(function, defined, name)
                 self.assertEqual(function + str(inspect.signature(getattr(module, function))), line)
+
+    def test_classes(self):
+        for name, told in CLASSES.items():
+            module = importlib.import_module("everytongue." + name)
+            tree = ast.parse(pathlib.Path(module.__file__).read_text())
+            word = told[0].split("(")[0]
+            defined = {inner.name for node in tree.body if isinstance(node, ast.ClassDef) and node.name == word
+                       for inner in node.body if isinstance(inner, ast.FunctionDef)}
+            own = getattr(module, word)
+            self.assertEqual(word + str(inspect.signature(own)), told[0])
+            for line in told[1:]:
+                method = line.split("(")[0]
+                self.assertIn(method, defined)
+                self.assertEqual(method + str(inspect.signature(vars(own)[method])), line)
 
     def test_readme(self):
         path = pathlib.Path(__file__).resolve().parent.parent / "README.md"

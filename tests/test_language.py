@@ -21,13 +21,14 @@ NODES = (
     ast.UnaryOp, ast.Not, ast.USub, ast.Compare, ast.Eq, ast.NotEq, ast.Lt, ast.LtE, ast.Gt, ast.GtE, ast.In, ast.NotIn,
     ast.Is, ast.IsNot, ast.Call, ast.keyword, ast.Constant, ast.Name, ast.Load, ast.Store, ast.Del, ast.Attribute,
     ast.Subscript, ast.Slice, ast.List, ast.Tuple, ast.Dict, ast.ListComp, ast.DictComp, ast.comprehension, ast.IfExp,
-    ast.Lambda, ast.LShift, ast.RShift, ast.BitAnd, ast.BitOr)
+    ast.Lambda, ast.LShift, ast.RShift, ast.BitAnd, ast.BitOr, ast.JoinedStr, ast.FormattedValue)
 BUILTINS = ("len", "range", "enumerate", "zip", "min", "max", "sum", "abs", "sorted", "reversed", "int", "str", "bool",
             "list", "tuple", "dict", "set", "isinstance", "ord", "repr", "any", "all", "divmod", "ValueError")
 METHODS = ("append", "bit_length", "clear", "copy", "count", "endswith", "extend", "find", "get", "index", "insert", "items", "join",
            "keys", "pop", "remove", "replace", "reverse", "setdefault", "split", "startswith", "strip", "update",
            "values")
-LIBRARY = {"heapq": ("heapify", "heappush", "heappop"), "math": ("gcd",)}
+LIBRARY = {"heapq": ("heapify", "heappush", "heappop"), "math": ("gcd", "isqrt", "lcm")}
+DUNDERS = ("__init__", "__len__", "__eq__")
 SPOTS = ("list", "tuple", "dict", "sorted", "sum", "any", "all", "enumerate", "zip", "min", "max")
 CHANGES = ("append", "clear", "extend", "insert", "pop", "remove", "reverse", "setdefault", "update")
 # Doctests leave an underscore behind.
@@ -152,12 +153,12 @@ class Language(unittest.TestCase):
                     found = [node.id]
                 elif isinstance(node, ast.arg):
                     found = [node.arg]
-                elif isinstance(node, (ast.FunctionDef, ast.ClassDef)) and node.name != "__init__":
+                elif isinstance(node, (ast.FunctionDef, ast.ClassDef)) and node.name not in DUNDERS:
                     found = [node.name]
                 elif isinstance(node, ast.Attribute):
                     self.assertNotIn(node.attr, BARRED)
                 for name in found:
-                    self.assertTrue(re.fullmatch("[A-Za-z][A-Za-z0-9_]*|_", name), name)
+                    self.assertTrue(re.fullmatch("_?[A-Za-z][A-Za-z0-9_]*|_", name), name)
                     self.assertNotIn(name, BUILTIN + list(BARRED))
                     if isinstance(node, (ast.Name, ast.arg)) and names.count(name):
                         self.assertIn(name, [names for names in names if names.isupper()], name)
@@ -177,7 +178,34 @@ class Language(unittest.TestCase):
             for word in ("dataclass", "overload", "contextmanager", "_wall", "_WallAttr"):
                 self.assertNotIn(word, text)
 
+    def own_methods(self):
+        """The methods of the package's classes, each with the classes that define it."""
+        found = {}
+        for path in SOURCES:
+            for node in ast.parse(path.read_text(encoding="utf-8")).body:
+                if isinstance(node, ast.ClassDef):
+                    for inner in node.body:
+                        if isinstance(inner, ast.FunctionDef):
+                            found.setdefault(inner.name, []).append(node.name)
+        return found
+
+    def test_classes(self):
+        """No name is a method and an attribute; __len__ and __eq__ only look."""
+        methods = self.own_methods()
+        for _, _, tree in self.each():
+            for node in ast.walk(tree):
+                if isinstance(node, ast.Attribute) and isinstance(node.ctx, ast.Store):
+                    self.assertNotIn(node.attr, methods)
+                    self.assertTrue(isinstance(node.value, ast.Name) and node.value.id == "self", node.attr)
+                if isinstance(node, ast.FunctionDef) and node.name in ("__len__", "__eq__"):
+                    for inner in ast.walk(node):
+                        self.assertNotIsInstance(inner, (ast.Assign, ast.AugAssign, ast.Delete))
+                        if isinstance(inner, ast.Call):
+                            name = inner.func.id if isinstance(inner.func, ast.Name) else inner.func.attr
+                            self.assertIn(name, ("isinstance", "len", "log"))
+
     def test_calls(self):
+        own = list(self.own_methods())
         for _, _, tree in self.each():
             for node in ast.walk(tree):
                 if isinstance(node, ast.Name) and node.id in BUILTIN:
@@ -186,7 +214,7 @@ class Language(unittest.TestCase):
                     continue
                 self.assertFalse([part for part in node.args if isinstance(part, ast.Starred)])
                 if isinstance(node.func, ast.Attribute):
-                    self.assertIn(node.func.attr, METHODS)
+                    self.assertIn(node.func.attr, METHODS + tuple(own))
                     self.assertEqual(node.keywords, [])
                 for keyword in node.keywords:
                     allowed = {"sorted": ("key",), "min": ("key", "default"), "max": ("key", "default")}
