@@ -4,7 +4,7 @@ A pair vector is told as the pair of the vector of what a tree says in one tongu
 what it says in another one.
 """
 
-from heapq import heapify, heappop, heappush
+from heapq import heappop, heappush
 
 from everytongue.checkers import is_book
 from everytongue.closing import kid_positions, new_rows
@@ -72,8 +72,7 @@ def listed_trees(common, erase, plans, ends):
     gone = [[] for _ in range(made[0])]
     sums = {}
     positions = kid_positions(made)
-    queue = [tree_entry(found, erase, con, kids, ()) for con, (_, kids) in enumerate(made[2]) if not kids]
-    heapify(queue)
+    queue = sorted([tree_entry(found, erase, con, kids, ()) for con, (_, kids) in enumerate(made[2]) if not kids])
     last, place = (), 0
     while queue:
         entry = heappop(queue)

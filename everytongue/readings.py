@@ -1,6 +1,6 @@
 """The readings of a text: the start trees of which a tongue says it."""
 
-from heapq import heapify, heappop, heappush
+from heapq import heappop, heappush
 
 from everytongue.checkers import is_book
 from everytongue.kinds import is_number, is_text
@@ -81,16 +81,13 @@ def opened_lists(book):
     root, the places, and which kid it is.
     """
     sizes = least_sizes(book)
-    queues = [[] for _ in range(book[0])]
+    rows = [[] for _ in range(book[0])]
     for con, (result, kids) in enumerate(book[2]):
-        queues[result].append((1 + sum([sizes[kid] for kid in kids]), con, (0,) * len(kids)))
-    found = []
-    waits = []
-    for queue in queues:
-        heapify(queue)
-        found.append([heappop(queue)] if queue else [])
-        waits.append(following(found[-1][0]) if found[-1] else [])
-    return found, queues, waits
+        rows[result].append((1 + sum([sizes[kid] for kid in kids]), con, (0,) * len(kids)))
+    # An ascending list is a queue, with its first member or without.
+    rows = [sorted(row) for row in rows]
+    waits = [following(row[0]) if row else [] for row in rows]
+    return [row[:1] for row in rows], [row[1:] for row in rows], waits
 
 
 def following(entry):

@@ -15,6 +15,7 @@ from everytongue.kinds import is_quotient
 from everytongue.leading import block_book, block_tongue
 from everytongue.listing import listed
 from everytongue.making import led
+from everytongue.renumbering import renumbered, renumbered_tree
 from everytongue.saying import texts_said
 from everytongue.spaces import Space
 from everytongue.speaking import says
@@ -25,7 +26,7 @@ from everytongue.twists import twisted, twisted_text
 from everytongue.vectors import vector_of, vector_size
 from everytongue.within import state_pairs
 from asking import Asking
-from samples import (BAD_BOOKS, BAD_PIECES, BAD_TREES, EMPTY, MEAN, NEST, NO_CONS, NO_STARTS, PAIRS, SPLIT, WALK, random_pieces,
+from samples import (BAD_BOOKS, BAD_PIECES, BAD_TREES, EMPTY, MEAN, NEST, NO_CONS, NO_STARTS, PAIRS, SPLIT, WALK, random_book, random_pieces,
                      slow_key, start_trees)
 from waysamples import BAD_TONGUES, HALT, NET, slow_says, tongue_samples
 
@@ -266,6 +267,32 @@ class Alike(Asking):
         first = rows[:9] + ((((0, 0), "x"),), (("y",),))
         self.same(alike(book, ("pieces", (1,) * 10, first), ("pieces", (1,) * 10, other), SAME),
                   ("part", tuple(range(9)) + (9, 10)))
+
+    def test_numbered_anew(self):
+        """Constructors numbered anew: the tongues part as before, at the first tree by the new numbers."""
+        rng = random.Random(199)
+        unlike = 0
+        for _ in range(120):
+            book = random_book(rng, sorts=2, cons=9)
+            one, other = random_pieces(rng, book, width=2), random_pieces(rng, book, width=2)
+            order = list(range(len(book[2])))
+            rng.shuffle(order)
+            # Constructor k has the number order[k].
+            places = [order.index(k) for k in range(len(order))]
+            new = renumbered(book, tuple(range(book[0])), tuple(order))
+            self.same(new[2], tuple([book[2][k] for k in places]))
+            new_one, new_other = [tongue[:2] + (tuple([tongue[2][k] for k in places]),) for tongue in (one, other)]
+            told, new_told = alike(book, one, other, SAME), alike(new, new_one, new_other, SAME)
+            self.assertEqual(told[0], new_told[0])
+            if told[0] == "part":
+                self.assertEqual(len(told[1]), len(new_told[1]))
+                back = renumbered_tree(book, told[1], tuple(order))
+                self.same(parts_at(new, new_one, new_other, SAME, back), True)
+                self.assertTrue(slow_key(new, new_told[1]) <= slow_key(new, back))
+                unlike += back != new_told[1]
+            else:
+                self.same(lets_alike(new, new_one, new_other, SAME, new_told), "alike")
+        self.assertTrue(unlike > 3, unlike)
 
     def test_first_of_both_kinds(self):
         """The first tree is told, be it unsaid by one or said otherwise."""

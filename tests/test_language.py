@@ -27,7 +27,7 @@ BUILTINS = ("len", "range", "enumerate", "zip", "min", "max", "sum", "abs", "sor
 METHODS = ("append", "bit_length", "clear", "copy", "count", "endswith", "extend", "find", "get", "index", "insert", "items", "join",
            "keys", "pop", "remove", "replace", "reverse", "setdefault", "split", "startswith", "strip", "update",
            "values")
-LIBRARY = {"heapq": ("heapify", "heappush", "heappop"), "math": ("gcd", "isqrt", "lcm")}
+LIBRARY = {"heapq": ("heappush", "heappop"), "math": ("gcd", "isqrt", "lcm")}
 DUNDERS = ("__init__", "__len__", "__eq__")
 SPOTS = ("list", "tuple", "dict", "sorted", "sum", "any", "all", "enumerate", "zip", "min", "max")
 CHANGES = ("append", "clear", "extend", "insert", "pop", "remove", "reverse", "setdefault", "update")

@@ -275,7 +275,7 @@ class Tongues(Lines):
 
     def test_places_of_pieces(self):
         self.places(tongue_text(NEST, LEX, SPLIT), (
-            (1, "width s", 1, 2), (1, "width", 1, 1), (1, "width s x", 1, 2), (1, "width s 01", 1, 2), (1, "width s -1", 1, 2),
+            (1, "width s", 1, 2), (1, "width", 1, 1), (1, "width s x", 1, 2), (1, "width s 01", 1, 2), (1, "width s -1", 1, 2), (1, "width s +1", 1, 2), (1, "width s 1.", 1, 2),
             (1, "width s 1 1", 1, 3), (1, "width s 1 ", 1, 3), (1, "width  s 1", 1, 1), (1, "width t 1", 1, 1), (1, "rank s 1", 1, 0),
             (1, "width s " + "1" * 61, 1, 2), (1, "width s " + "1" * 60, 6, 0), (1, "width s 0", 6, 0), (1, "width s 2", 6, 0),
             (3, "say top", 3, 2), (3, "say", 3, 1), (3, "say top ", 3, 2), (3, "say top |", 3, 2), (3, "say top - -", 3, 3),
