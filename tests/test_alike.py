@@ -13,7 +13,8 @@ from everytongue.formchecker import lets_form
 from everytongue.grounds import alike_on
 from everytongue.kinds import is_quotient
 from everytongue.leading import block_book, block_tongue
-from everytongue.listing import listed
+from everytongue.leasttrees import first_roots
+from everytongue.listing import listed, listed_trees, pair_plans
 from everytongue.making import led
 from everytongue.renumbering import renumbered, renumbered_tree
 from everytongue.saying import texts_said
@@ -533,6 +534,42 @@ class Grounds(Asking):
         self.same(alike_on(book, one, one, other, SAME), due[0])
         walker = led(book, one, "walker")[2]
         self.same(alike_on(book, walker, one, other, SAME), due[0])
+
+
+    def test_one_tree_in_several_sorts(self):
+        """The ground's form has the first kid twice, by what the second one is; the order is that of the book's trees."""
+        pieces = lambda word, book: ("pieces", (1,) * book[0], tuple([
+            (tuple([(kid, 0) for kid in range(len(kids))]) if kids else (word,),) for _, kids in book[2]]))
+        for many in (2, 3):
+            for order in itertools.permutations(range(1, many + 1)):
+                # Constructors 2 and further ones have no kids; the walker comes back from them in these states.
+                book = (3, (0,), ((0, (1, 2)), (1, ())) + ((2, ()),) * many)
+                rules = [(0, 0, 0, (), 2, 0)] + [(0, 2 + k, 0, (), 0, state) for k, state in enumerate(order)]
+                for state in order:
+                    rules.extend([(state, 0, 2, (), 1, state), (state, 1, 0, (), 0, state), (state, 0, 1, (), 0, 0)])
+                ground = ("walker", many + 1, tuple(sorted(rules)))
+                one = pieces("x", book)
+                self.same(alike_on(book, ground, one, pieces("y", book), SAME), (0, 1, 2))
+                self.same(alike_on(book, ground, one, NONE, SAME), (0, 1, 2))
+                # At the least of the second kids they don't part.
+                rows = pieces("y", book)[2]
+                other = ("pieces", (1,) * 3, rows[:1] + ((("x",),), (("x",),)) + rows[3:])
+                self.same(alike_on(book, ground, one, other, SAME), (0, 1, 3))
+                halt = [(0, 0, 0, (), 2, 0), (0, 2, 0, ("x",), 0, 1), (1, 0, 2, (), 1, 1), (1, 1, 0, (), 0, 1), (1, 0, 1, ("x",), 0, 0)]
+                self.same(alike_on(book, ground, one, ("walker", 2, tuple(sorted(halt))), SAME), (0, 1, 3))
+
+
+    def test_order_of_trees_as_erased(self):
+        """Trees of several sorts that erase alike have one place in the order, whatever numbers they have."""
+        cons = ((1, ()), (2, ()), (3, ()), (4, ()), (0, (1, 3)), (0, (2, 4)))
+        for erase in ((1, 1, 3, 2, 0, 0), (1, 1, 2, 3, 0, 0)):
+            made = (5, (0,), cons)
+            first = 5 if erase[2] == 3 else 4
+            self.same(first_roots(made, erase)[0], (3, first))
+            said = ("pieces", (1,) * 5, ((("x",),),) * 4 + ((((0, 0), (1, 0)),),) * 2)
+            common = (made, erase, said, said)
+            plans = pair_plans(common, SAME)
+            self.same(listed_trees(common, erase, plans, lambda size, start, pair: start)[2], (3, first, (0, 0)))
 
 
 class Consequences(Asking):
