@@ -332,6 +332,21 @@ class Alike(Asking):
             told = alike(book, one, one, SAME)
             self.same((told[0], lets_alike(book, one, one, SAME, told)), ("alike", "alike"))
 
+    def test_great_trees(self):
+        """Trees of very many nodes are too much, and are not gone through one by one."""
+        # Sorts 1 to 20: all trees have 4 ** 20 nodes, and say nothing.
+        chain = tuple([(level, (level + 1,) * 4) for level in range(1, 20)])
+        book = (22, (0,), ((0, (1, 21)),) + chain + ((20, ()), (21, ())))
+        rows = tuple([(tuple([(kid, 0) for kid in range(len(kids))]),) for _, kids in book[2]])
+        one = ("pieces", (1,) * 22, rows[:-1] + ((("a",),),))
+        other = ("pieces", (1,) * 22, rows[:-1] + ((("b",),),))
+        self.refused(TooMuch, ("tree",), alike, book, one, other, SAME)
+        self.refused(TooMuch, ("tree",), alike, book, one, NONE, SAME)
+        self.refused(TooMuch, ("tree",), alike_on, book, one, one, other, SAME)
+        told = alike(book, one, one, MIRROR)
+        self.same((told[0], lets_alike(book, one, one, MIRROR, told)), ("alike", "alike"))
+        self.same([len(rows) for rows in told[1][1]], [1] * 22)
+
     def test_edges(self):
         self.same(alike(EMPTY, ("pieces", (), ()), NONE, MIRROR), ("alike", ((), (), ())))
         self.same(alike(NO_STARTS, ("pieces", (1, 1), ((((0, 0),),), ((),))), NONE, SAME),

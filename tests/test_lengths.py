@@ -297,6 +297,10 @@ class Growth(Asking):
         for outer in (None, (), (1, -1), (-1,), (0, 2), [0, -1], (0, 1), (False, -1), (0, -1, -1), 0):
             self.invalid("outer", -1, lets_growth, FORM, ("endless", (outer, (-1,), (2,))))
         self.invalid("words", -1, lets_growth, FORM, ("endless", ((0, -1), (-1,), (2,))))
+        # The hole is no constructor, so it has no words either.
+        book = (1, (0,), ((0, (0,)), (0, ())))
+        self.invalid("words", -1, lets_growth, (book, (0, 1), ("pieces", (1,), ((("b", (0, 0)),), (("a",),)))),
+                     ("endless", ((-1,), (-1,), (1,))))
         # A start sort around itself: the outer context may be the hole.
         book = (1, (0,), ((0, (0,)), (0, ())))
         form = (book, (0, 1), ("pieces", (1,), ((("a", (0, 0)),), ((),))))
@@ -394,6 +398,30 @@ class Growth(Asking):
         rows.append(((),))
         book = (size, (0,), tuple(cons))
         return (book, tuple(range(len(cons))), ("pieces", (1,) * size, tuple(rows)))
+
+    def test_words_beside_the_hole(self):
+        """The only words stand in a great tree beside the hole, which has a small one without words, too."""
+        for many in (1, 2, 500, 998, 999):
+            for at in (0, 1):
+                # Sort 0 goes round beside sort 1; from there many constructors lead to a word.
+                kids = (0, 1) if at == 0 else (1, 0)
+                cons = [(0, kids), (0, ()), (1, ())] + [(k, (k + 1,)) for k in range(1, many)] + [(many, ())]
+                rows = [(((0, 0), (1, 0)),), ((),), ((),)] + [(((0, 0),),)] * (many - 1) + [(("a",),)]
+                form = ((many + 1, (0,), tuple(cons)), tuple(range(len(cons))), ("pieces", (1,) * (many + 1), tuple(rows)))
+                told = growth(form)
+                self.same(lets_growth(form, told), "endless")
+                tree = tuple(range(3, len(cons)))
+                self.same(told[1], ((-1,), (0, -1) + tree if at == 0 else (0,) + tree + (-1,), (1,)))
+        # One more node is too much.
+        cons = [(0, (0, 1)), (0, ()), (1, ())] + [(k, (k + 1,)) for k in range(1, 1000)] + [(1000, ())]
+        rows = [(((0, 0), (1, 0)),), ((),), ((),)] + [(((0, 0),),)] * 999 + [(("a",),)]
+        form = ((1001, (0,), tuple(cons)), tuple(range(len(cons))), ("pieces", (1,) * 1001, tuple(rows)))
+        self.refused(TooMuch, ("tree",), growth, form)
+        # Beside two holes of unlike least trees, the one with words at less is taken.
+        cons = ((0, (0, 1, 2)), (0, ()), (1, ()), (1, (1, 1)), (2, (3,)), (3, ()), (3, (3,)))
+        rows = ((((0, 0), (1, 0), (2, 0)),), ((),), ((),), (("a", (0, 0), (1, 0)),), (((0, 0),),), ((),), (("b", (0, 0)),))
+        form = ((4, (0,), cons), tuple(range(7)), ("pieces", (1,) * 4, rows))
+        self.same(growth(form), ("endless", ((-1,), (0, -1, 2, 4, 6, 5), (1,))))
 
     def test_another_sort_of_the_ring(self):
         # The tree of the start sort is too great; a sort further in has a small one.

@@ -146,6 +146,16 @@ class Translations(Asking):
         self.same(back_and_forth(book, other, ("x",), one, 3), (("x",),))
         self.refused(TooMuch, ("sentences",), back_and_forth, book, other, ("x",), one, 2)
 
+    def test_texts_back_from_several_translations(self):
+        # Each of two translations has two texts back, and both together have three.
+        book = (1, (0,), ((0, ()),) * 4)
+        one = ("pieces", (1,), ((("w",),), (("w",),), (("u",),), (("v",),)))
+        other = ("pieces", (1,), ((("x",),), (("y",),), (("x",),), (("y",),)))
+        self.same(translated(book, one, ("w",), other, 2), (("x",), ("y",)))
+        self.same(back_and_forth(book, one, ("w",), other, 3), (("u",), ("v",), ("w",)))
+        self.refused(TooMuch, ("sentences",), back_and_forth, book, one, ("w",), other, 2)
+        self.refused(TooMuch, ("sentences",), back_and_forth, book, one, ("w",), other, 1)
+
     def test_edges(self):
         nothing = ("pieces", (), ())
         self.same(translated(EMPTY, nothing, (), nothing, 0), ())
