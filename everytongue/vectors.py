@@ -77,33 +77,45 @@ def vector_plan(widths, row, numbers):
     each kid the place of an entry of its vector.
     """
     places = [{picks: place for place, picks in enumerate(entry_choices(width))} for width in widths]
+    told = [[piece_ways(piece, pick, numbers) for pick in (0, 1, 2)] for piece in row]
     plan = []
     for picks in entry_choices(len(row)):
-        products = []
-        for given in choices([given_picks(piece, pick) for piece, pick in zip(row, picks)]):
-            products.append(told_product(widths, places, row, given, numbers))
-        plan.append(products)
+        lists = [ways[pick] for ways, pick in zip(told, picks)]
+        plan.append([told_product(widths, places, ways) for ways in choices(lists)])
     return plan
 
 
-def given_picks(piece, pick):
-    """The ways to give each element of a piece 0, 1 or 2, so that all of them come to pick."""
+def piece_ways(piece, pick, numbers):
+    """The ways to give each element of a piece 0, 1 or 2, so that all of them come to pick.
+
+    Each is a pair of the factor of the words and a list of the slots with what they are given.
+    """
     many = len(piece)
-    if pick != 1:
-        return [(pick,) * many]
-    return [(2,) * at + (1,) + (0,) * (many - 1 - at) for at in range(many)]
+    if pick == 1:
+        given = [(2,) * at + (1,) + (0,) * (many - 1 - at) for at in range(many)]
+    else:
+        given = [(pick,) * many]
+    ways = []
+    for picks in given:
+        factor = 1
+        slots = []
+        for item, own in zip(piece, picks):
+            if not isinstance(item, str):
+                slots.append((item[0], item[1], own))
+            elif own != 2:
+                factor *= len(numbers) + 1 if own == 0 else numbers[item]
+        ways.append((factor, slots))
+    return ways
 
 
-def told_product(widths, places, row, given, numbers):
-    """The factor of the words and the place of each kid's entry if the elements of the row are given these."""
+def told_product(widths, places, ways):
+    """The factor of the words and the place of each kid's entry, for one way of each piece."""
     factor = 1
     picks = [[2] * width for width in widths]
-    for piece, told in zip(row, given):
-        for item, pick in zip(piece, told):
-            if not isinstance(item, str):
-                picks[item[0]][item[1]] = pick
-            elif pick != 2:
-                factor *= len(numbers) + 1 if pick == 0 else numbers[item]
+    for own, slots in ways:
+        factor *= own
+        for kid, piece, pick in slots:
+            picks[kid][piece] = pick
     return factor, [table[tuple(row)] for table, row in zip(places, picks)]
 
 
