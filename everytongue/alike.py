@@ -9,7 +9,7 @@ from everytongue.refusing import MOST_NODES, bound_nodes, require
 from everytongue.speaking import text_said
 from everytongue.tonguechecker import is_tongue
 from everytongue.twists import is_twist, turned
-from everytongue.within import first_such, is_uneven, pairs_and_ways
+from everytongue.within import first_small, first_such, is_uneven, pairs_and_ways
 
 
 def parts_at(book, one, other, twist, start_tree):
@@ -49,6 +49,10 @@ def first_parted(book, erase, one, other, twist):
 
     Then this tree, () if it has too many nodes. Instead 0, () and the paper that there is none.
     """
+    # Most tongues that part do so at a small tree, and are not led into forms then.
+    tree = first_small(book, erase, lambda small: is_parted(book, one, other, twist, small))
+    if tree:
+        return len(tree), tree, ()
     rows, ways = pairs_and_ways(book, one, other)
     size, tree = first_such(book, erase, rows, ways, lambda pair: is_uneven(one, other, pair))
     common = both_form(book, one, other)

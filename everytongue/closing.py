@@ -43,6 +43,19 @@ def closed_states(book, make):
     return [sorted(row) for row in states], ways
 
 
+def remembered(make):
+    """The function make, which tells each answer from what it told before where it can."""
+    known = {}
+    return lambda con, row: known_answer(known, make, con, row)
+
+
+def known_answer(known, make, con, row):
+    """What make tells; known has its answers so far."""
+    if (con, row) not in known:
+        known[(con, row)] = make(con, row)
+    return known[(con, row)]
+
+
 def tree_state(book, make, tree):
     """The state of a tree that is known to be one."""
     places = kid_places(book, tree)

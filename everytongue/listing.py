@@ -38,11 +38,20 @@ def pair_plans(common, twist):
     made, _, said, other_said = common
     turned_said = turned_pieces(other_said, twist)
     numbers = digit_numbers(pair_words(said, turned_said))
+    known = {}
     plans = []
     for (_, kids), row, turned_row in zip(made[2], said[2], turned_said[2]):
-        plan = vector_plan([said[1][kid] for kid in kids], row, numbers)
-        plans.append((plan, vector_plan([turned_said[1][kid] for kid in kids], turned_row, numbers)))
+        widths = tuple([said[1][kid] for kid in kids])
+        turned_widths = tuple([turned_said[1][kid] for kid in kids])
+        plans.append((known_plan(known, widths, row, numbers), known_plan(known, turned_widths, turned_row, numbers)))
     return plans
+
+
+def known_plan(known, widths, row, numbers):
+    """The plan for kids of these widths and the row; known has those told before, as many constructors share one."""
+    if (widths, row) not in known:
+        known[(widths, row)] = vector_plan(widths, row, numbers)
+    return known[(widths, row)]
 
 
 def made_pair(plan, pairs):

@@ -1,11 +1,13 @@
 """Whether one tongue says each start tree that another one says."""
 
 from everytongue.checkers import is_book
-from everytongue.closing import closed_states, paired_book
+from everytongue.closing import closed_states, paired_book, remembered, tree_state
 from everytongue.leasttrees import first_roots, grown_tree
+from everytongue.numbering import tree_key
 from everytongue.refusing import MOST_NODES, bound_nodes, require
 from everytongue.states import says_in, state_maker
 from everytongue.tonguechecker import is_tongue
+from everytongue.treelists import small_trees
 
 
 def state_pairs(book, one, other):
@@ -21,13 +23,25 @@ def said_within(book, one, other):
     require(is_book(book), "book")
     require(is_tongue(book, one), "one")
     require(is_tongue(book, other), "other")
-    rows, ways = pairs_and_ways(book, one, other)
     erase = list(range(len(book[2])))
+    make = pair_maker(one, other)
+    tree = first_small(book, erase, lambda small: is_short(one, other, tree_state(book, make, small)))
+    if tree:
+        return ("tree", tree)
+    rows, ways = pairs_and_ways(book, one, other)
     size, tree = first_such(book, erase, rows, ways, lambda pair: is_short(one, other, pair))
     if size > 0:
         bound_nodes(size)
         return ("tree", tree)
     return ("within", tuple([tuple(row) for row in rows]))
+
+
+def first_small(book, erase, holds):
+    """The first start tree, by the order of trees as erased, of which holds is true, if it is a small one; else ()."""
+    for tree in sorted(small_trees(book, 60, 30), key=lambda small: tree_key(book, small, erase)):
+        if holds(tree):
+            return tree
+    return ()
 
 
 def first_such(book, erase, rows, ways, holds):
@@ -50,7 +64,8 @@ def first_such(book, erase, rows, ways, holds):
 
 def pair_maker(one, other):
     """The function that tells the pair of states which a constructor makes of those of its kids."""
-    make, make_other = state_maker(one), state_maker(other)
+    # Pairs are many, while the states of one tongue alone may be few.
+    make, make_other = remembered(state_maker(one)), remembered(state_maker(other))
     return lambda con, pairs: (make(con, firsts(pairs)), make_other(con, seconds(pairs)))
 
 

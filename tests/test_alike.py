@@ -3,6 +3,7 @@
 import itertools
 import random
 import unittest
+import unittest.mock
 
 from everytongue.alike import alike, parts_at
 from everytongue.alikechecker import lets_alike
@@ -370,6 +371,15 @@ class Alike(Asking):
                   {"book": BAD_BOOKS, "ground": FEW_BAD, "one": FEW_BAD, "other": FEW_BAD, "twist": BAD_TWISTS})
 
 
+class AlikeByBases(Alike):
+    """The same without a look at small trees: what is asked of bases, then, is asked for each tree."""
+
+    def setUp(self):
+        patch = unittest.mock.patch("everytongue.alike.first_small", lambda book, erase, holds: ())
+        patch.start()
+        self.addCleanup(patch.stop)
+
+
 class Papers(Asking):
 
     def setUp(self):
@@ -585,6 +595,12 @@ class Grounds(Asking):
             common = (made, erase, said, said)
             plans = pair_plans(common, SAME)
             self.same(listed_trees(common, erase, plans, lambda size, start, pair: start)[2], (3, first, (0, 0)))
+
+
+class GroundsByBases(Grounds):
+    """The same without a look at small trees."""
+
+    setUp = AlikeByBases.setUp
 
 
 class Consequences(Asking):

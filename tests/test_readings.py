@@ -16,10 +16,11 @@ from everytongue.readings import count_readings, first_readings, readings
 from everytongue.saying import texts_said
 from everytongue.speaking import says
 from everytongue.treecounts import count_trees
+from everytongue.treelists import small_trees
 from everytongue.trimming import trimmed
 from asking import Asking
 from samples import (BAD_BOOKS, DEAD, EMPTY, MEAN, NEST, NO_CONS, NO_STARTS, PAIRS, SPLIT, WALK, nines_book, power_book,
-                     random_pieces, silent_tongue, start_trees)
+                     random_book, random_pieces, silent_tongue, start_trees)
 from waysamples import BAD_TEXTS, BAD_TONGUES, HALT, NET, slow_says, tongue_samples
 
 BINARY = ("pieces", (1,), ((("x",),), (((0, 0), (1, 0)),)))
@@ -174,6 +175,24 @@ class Readings(Asking):
             self.asks(function, good, bad)
         self.asks(first_readings, dict(good, most=3), dict(bad, most=(-1, True, None, "1", (1,))))
         self.asks(lets_no_reading, dict(good, words=("a",), thing=no_reading(NEST, SPLIT, ("a",))), bad, ("thing",))
+
+
+class SmallTrees(Asking):
+
+    def test_listed_trees(self):
+        """All start trees up to a size, as far as they are few."""
+        rng = random.Random(144)
+        books = [EMPTY, NO_STARTS, NO_CONS, DEAD, PAIRS, NEST, ROUND] + [random_book(rng) for _ in range(60)]
+        for book in books:
+            trees = start_trees(book, 7)
+            sizes = [len(tree) for tree in trees]
+            for most in (0, 1, 4, 20):
+                for nodes in (1, 3, 6):
+                    told = small_trees(book, most, nodes)
+                    self.assertEqual(len(set(told)), len(told))
+                    self.assertEqual([len(tree) for tree in told], sorted([len(tree) for tree in told]))
+                    due = [tree for tree in trees if len(tree) <= nodes and sizes.index(len(tree)) + sizes.count(len(tree)) <= most]
+                    self.assertEqual(sorted(told), sorted(due))
 
 
 class NoReading(Asking):

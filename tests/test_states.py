@@ -2,6 +2,7 @@
 
 import random
 import unittest
+import unittest.mock
 
 from everytongue.behaviours import behaviour_of
 from everytongue.errors import InvalidPaper, TooMuch
@@ -256,6 +257,15 @@ class Within(Asking):
         bad = {"book": BAD_BOOKS, "one": BAD_TONGUES, "other": BAD_TONGUES}
         self.asks(state_pairs, good, bad)
         self.asks(said_within, good, bad)
+
+
+class WithinByStates(Within):
+    """The same without a look at small trees."""
+
+    def setUp(self):
+        patch = unittest.mock.patch("everytongue.within.first_small", lambda book, erase, holds: ())
+        patch.start()
+        self.addCleanup(patch.stop)
 
 
 class LetsWithin(Asking):
